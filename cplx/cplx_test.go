@@ -12,14 +12,14 @@ import (
 
 func TestSame(t *testing.T) {
 	list := corners()
-	mix := mixer(8)
+	mix := mixer{8}
 	for _, a := range list {
 		if !cplx.Same(a, a) {
 			t.Errorf("P3.1: Same(%x, itself) = false", a)
 		}
 		for range 60 {
-			b := list[mix.below(len(list))]
-			if mix.below(2) == 0 {
+			b := list[mix.Below(len(list))]
+			if mix.Below(2) == 0 {
 				b = complex(real(a), imag(b))
 			}
 			if got := cplx.Same(a, b); got != both(a, b) {
@@ -124,13 +124,13 @@ func TestUnlike(t *testing.T) {
 			t.Errorf("P3.9: Unlike(%v) = %v, want %v", c.list, got, c.want)
 		}
 	}
-	mix := mixer(9)
+	mix := mixer{9}
 	for range 300 {
-		list := make([]complex128, mix.below(60))
+		list := make([]complex128, mix.Below(60))
 		for i := range list {
 			list[i] = mix.number()
-			if i > 0 && mix.below(2) == 0 {
-				list[i] = list[mix.below(i)]
+			if i > 0 && mix.Below(2) == 0 {
+				list[i] = list[mix.Below(i)]
 			}
 		}
 		if got, want := cplx.Unlike(list), firsts(list); !slices.EqualFunc(got, want, both) {

@@ -64,7 +64,7 @@ func TestSqrtByAnotherRoad(t *testing.T) {
 			}
 		}
 	}
-	mix := mixer(6)
+	mix := mixer{6}
 	for range 3000 {
 		list = append(list, mix.number())
 	}
@@ -92,7 +92,7 @@ func squareNear(r, a complex128, share float64) bool {
 }
 
 func TestSqrtIsARoot(t *testing.T) {
-	mix := mixer(7)
+	mix := mixer{7}
 	list := corners()
 	for range 2000 {
 		list = append(list, mix.number())

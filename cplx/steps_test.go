@@ -29,7 +29,7 @@ func TestConjTurnScale(t *testing.T) {
 	} {
 		is(t, cplx.Scale(c.x, c.a), c.want, "P3.2: Scale(%x, %x)", c.x, c.a)
 	}
-	mix := mixer(1)
+	mix := mixer{1}
 	for range 5000 {
 		x, a := mix.part(), mix.number()
 		is(t, cplx.Scale(x, a), complex(times(x, real(a)), times(x, imag(a))), "P3.2: Scale(%x, %x)", x, a)
@@ -58,7 +58,7 @@ func TestMul(t *testing.T) {
 	} {
 		is(t, cplx.Mul(c.a, c.b), c.want, "P3.3: Mul(%x, %x)", c.a, c.b)
 	}
-	mix := mixer(2)
+	mix := mixer{2}
 	for range 10000 {
 		a, b := mix.number(), mix.number()
 		is(t, cplx.Mul(a, b), product(a, b), "P3.3: Mul(%x, %x)", a, b)
@@ -101,7 +101,7 @@ func TestDiv(t *testing.T) {
 			is(t, cplx.Div(a, b), quotient(a, b), "P3.4: Div(%x, %x)", a, b)
 		}
 	}
-	mix := mixer(3)
+	mix := mixer{3}
 	for range 6000 {
 		a, b := mix.number(), mix.number()
 		is(t, cplx.Div(a, b), quotient(a, b), "P3.4: Div(%x, %x)", a, b)
@@ -123,7 +123,7 @@ func TestAbs2(t *testing.T) {
 		}
 	}
 	list := corners()
-	mix := mixer(4)
+	mix := mixer{4}
 	for range 4000 {
 		list = append(list, mix.number())
 	}
@@ -169,7 +169,7 @@ func TestAbs(t *testing.T) {
 		}
 	}
 	list := corners()
-	mix := mixer(5)
+	mix := mixer{5}
 	for range 4000 {
 		list = append(list, mix.number())
 	}

@@ -1,21 +1,18 @@
 package exact_test
 
 import (
+	"math/big"
 	"slices"
 	"testing"
 
 	"quaver/api"
 	"quaver/exact"
+	"quaver/trial"
 )
 
 // of is n over d.
 func of(neg bool, n, d uint64) exact.Number {
 	return exact.Make(neg, []uint64{n}, []uint64{d})
-}
-
-// alike: limb by limb; nil and empty lists are the same.
-func alike(a, b api.Rat) bool {
-	return a.Neg == b.Neg && slices.Equal(a.Num, b.Num) && slices.Equal(a.Den, b.Den)
 }
 
 func TestOperandsStay(t *testing.T) {
@@ -39,7 +36,7 @@ func TestOperandsStay(t *testing.T) {
 		exact.Near(x, 53, -1074)
 	}
 	for i, x := range list {
-		if !alike(x.Rat(), was[i]) {
+		if !trial.Alike(x.Rat(), was[i]) {
 			t.Errorf("%v became %v", was[i], x.Rat())
 		}
 	}
@@ -60,7 +57,7 @@ func TestBinary(t *testing.T) {
 		{false, 3, 64, api.Rat{Num: []uint64{0, 3}, Den: []uint64{1}}},
 		{true, 1, -128, api.Rat{Neg: true, Num: []uint64{1}, Den: []uint64{0, 0, 1}}},
 	} {
-		if r := exact.Binary(c.neg, c.m, c.e).Rat(); !alike(r, c.want) {
+		if r := exact.Binary(c.neg, c.m, c.e).Rat(); !trial.Alike(r, c.want) {
 			t.Errorf("Binary(%v, %d, %d) = %v, want %v", c.neg, c.m, c.e, r, c.want)
 		}
 	}
@@ -92,10 +89,60 @@ func TestBeyondTheLimit(t *testing.T) {
 	// 2^m - 1 and 2^n - 1 have the divisor 2^64 - 1 in common, and no greater one.
 	x := exact.Make(false, slices.Repeat([]uint64{1<<64 - 1}, 3*api.MaxLimbs), slices.Repeat([]uint64{1<<64 - 1}, api.MaxLimbs+1))
 	back := exact.Quo(exact.Mul(x, x), x)
-	if exact.Cmp(back, x) != 0 || !alike(back.Rat(), x.Rat()) || !exact.Coprime(x.Rat().Num, x.Rat().Den) {
+	if exact.Cmp(back, x) != 0 || !trial.Alike(back.Rat(), x.Rat()) || !exact.Coprime(x.Rat().Num, x.Rat().Den) {
 		t.Error("x * x / x is not x, where x is long")
 	}
-	if nought := exact.Sub(exact.Add(x, exact.Int(1)), exact.Add(exact.Int(1), x)); nought.Sign() != 0 || !alike(nought.Rat(), exact.Int(0).Rat()) {
+	if nought := exact.Sub(exact.Add(x, exact.Int(1)), exact.Add(exact.Int(1), x)); nought.Sign() != 0 || !trial.Alike(nought.Rat(), exact.Int(0).Rat()) {
 		t.Error("x + 1 - (1 + x) is not 0, where x is long")
+	}
+}
+
+func TestRest(t *testing.T) {
+	for _, c := range []struct {
+		x        exact.Number
+		prime    uint64
+		num, den uint64
+	}{
+		{exact.Int(0), 5, 0, 1}, {exact.Int(7), 5, 2, 1}, {exact.Int(-7), 5, 3, 1}, {exact.Int(-10), 5, 0, 1}, {of(false, 3, 10), 5, 3, 0}, {of(true, 3, 8), 5, 2, 3},
+		{exact.Binary(true, 1, 64), 1<<61 - 1, 1<<61 - 1 - 8, 1}, {exact.Binary(false, 1, -200), 1<<61 - 1, 1, 1 << 17}, // 2^61 leaves 1
+		{exact.Make(false, []uint64{5, 0, 1}, []uint64{3, 1}), 1<<61 - 1, 5 + 1<<6, 3 + 1<<3},
+	} {
+		if num, den := c.x.Rest(c.prime); num != c.num || den != c.den {
+			t.Errorf("%v modulo %d: %d over %d, want %d over %d", c.x.Rat(), c.prime, num, den, c.num, c.den)
+		}
+	}
+}
+
+func TestOverAndParts(t *testing.T) {
+	x := exact.Over(big.NewInt(-12), big.NewInt(18))
+	num, den := x.Parts()
+	if num.Cmp(big.NewInt(-2)) != 0 || den.Cmp(big.NewInt(3)) != 0 {
+		t.Errorf("-12 over 18 is %v over %v", num, den)
+	}
+}
+
+func TestComplexStays(t *testing.T) {
+	list := []exact.Complex{exact.Real(0), exact.Real(-3), {Re: of(false, 6, 4), Im: of(true, 5, 7)}, {Re: exact.Int(0), Im: exact.Binary(true, 3, -70)}}
+	var was []api.Gauss
+	for _, a := range list {
+		was = append(was, a.Gauss())
+	}
+	for _, a := range list {
+		for _, b := range list {
+			a.Add(b)
+			a.Sub(b)
+			a.Mul(b)
+			if !b.Nought() {
+				a.Quo(b)
+			}
+		}
+		a.Neg()
+		a.Conj()
+		a.Norm()
+	}
+	for i, a := range list {
+		if g := a.Gauss(); !trial.Alike(g.Re, was[i].Re) || !trial.Alike(g.Im, was[i].Im) {
+			t.Errorf("%v became %v", was[i], g)
+		}
 	}
 }

@@ -4,6 +4,7 @@ package exact
 import (
 	"math/big"
 	"math/bits"
+	"slices"
 )
 
 const wordsPerLimb = 64 / bits.UintSize
@@ -31,11 +32,11 @@ func limbs(x *big.Int) []uint64 {
 
 // Coprime: have the two, natural numbers that are not both nought, no common divisor but 1?
 func Coprime(x, y []uint64) bool {
-	return isOne(divisor(whole(x), whole(y)))
+	return isOne(Divisor(whole(x), whole(y)))
 }
 
-// divisor is the greatest common divisor of two numbers that are not both nought.
-func divisor(x, y *big.Int) *big.Int {
+// Divisor is the greatest common divisor of two numbers that are not both nought.
+func Divisor(x, y *big.Int) *big.Int {
 	// What comes of floats is over powers of two: these are told by shifts, where Euclid's steps take far longer.
 	if x.Sign() != 0 && y.Sign() != 0 && (isPower(x) || isPower(y)) {
 		return power(min(x.TrailingZeroBits(), y.TrailingZeroBits()))
@@ -63,4 +64,13 @@ func over(x, y *big.Int) *big.Int {
 		return x
 	}
 	return new(big.Int).Quo(x, y)
+}
+
+// rest is what is left of x's magnitude, divided by n.
+func rest(x *big.Int, n uint64) uint64 {
+	var left uint64
+	for _, limb := range slices.Backward(limbs(x)) {
+		_, left = bits.Div64(left, limb, n)
+	}
+	return left
 }

@@ -22,6 +22,11 @@ func Make(neg bool, num, den []uint64) Number {
 	return reduce(signed(neg, whole(num)), whole(den))
 }
 
+// Over is num over den, which is above nought, in lowest terms. It may keep the two: they are not written again.
+func Over(num, den *big.Int) Number {
+	return reduce(num, den)
+}
+
 // Int is the number n.
 func Int(n int64) Number {
 	return Number{big.NewInt(n), big.NewInt(1)}
@@ -41,6 +46,20 @@ func (x Number) Rat() api.Rat {
 	return api.Rat{Neg: x.num.Sign() < 0, Num: limbs(x.num), Den: limbs(x.den)}
 }
 
+// Parts are x's numerator, with its sign, and its denominator. They are not to be written over.
+func (x Number) Parts() (num, den *big.Int) {
+	return x.num, x.den
+}
+
+// Rest are what is left of x's numerator and of its denominator, divided by a prime.
+func (x Number) Rest(prime uint64) (num, den uint64) {
+	num = rest(x.num, prime)
+	if x.Sign() < 0 && num != 0 {
+		num = prime - num
+	}
+	return num, rest(x.den, prime)
+}
+
 // Sign is -1, 0 or 1, as x is below nought, nought or above it.
 func (x Number) Sign() int {
 	return x.num.Sign()
@@ -56,18 +75,18 @@ func signed(neg bool, x *big.Int) *big.Int {
 
 // reduce is num over den, which is above nought, in lowest terms.
 func reduce(num, den *big.Int) Number {
-	d := divisor(num, den)
+	d := Divisor(num, den)
 	return Number{over(num, d), over(den, d)}
 }
 
 // Add is x + y.
 func Add(x, y Number) Number {
 	// Only what divides both denominators can divide the sum's parts: the divisors that are looked for stay small.
-	d := divisor(x.den, y.den)
+	d := Divisor(x.den, y.den)
 	rest := over(x.den, d)
 	num := new(big.Int).Mul(x.num, over(y.den, d))
 	num.Add(num, new(big.Int).Mul(y.num, rest))
-	last := divisor(num, d)
+	last := Divisor(num, d)
 	return Number{over(num, last), new(big.Int).Mul(rest, over(y.den, last))}
 }
 
@@ -84,7 +103,7 @@ func Sub(x, y Number) Number {
 // Mul is x * y.
 func Mul(x, y Number) Number {
 	// Each numerator has divisors in common with the other one's denominator alone.
-	c, d := divisor(x.num, y.den), divisor(y.num, x.den)
+	c, d := Divisor(x.num, y.den), Divisor(y.num, x.den)
 	num := new(big.Int).Mul(over(x.num, c), over(y.num, d))
 	den := new(big.Int).Mul(over(x.den, d), over(y.den, c))
 	return Number{num, den}

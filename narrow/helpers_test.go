@@ -3,6 +3,8 @@ package narrow_test
 import (
 	"math"
 	"testing"
+
+	"quaver/trial"
 )
 
 const (
@@ -17,34 +19,21 @@ var (
 	nan      = float32(math.NaN())
 )
 
-// mixer makes the same sequence of bits each time.
-type mixer uint64
-
-func (m *mixer) bits() uint64 {
-	*m += 0x9e3779b97f4a7c15
-	z := uint64(*m)
-	z = (z ^ z>>30) * 0xbf58476d1ce4e5b9
-	z = (z ^ z>>27) * 0x94d049bb133111eb
-	return z ^ z>>31
-}
-
-// below is a number from 0 up to n - 1.
-func (m *mixer) below(n int) int {
-	return int(m.bits() % uint64(n))
-}
+// mixer makes the same numbers each time.
+type mixer struct{ trial.Mixer }
 
 // part is a float of an edge, of any bits, of a middle size, or a small whole number.
 func (m *mixer) part() float32 {
 	list := edges()
-	switch m.below(4) {
+	switch m.Below(4) {
 	case 0:
-		return list[m.below(len(list))]
+		return list[m.Below(len(list))]
 	case 1:
-		return math.Float32frombits(uint32(m.bits()))
+		return math.Float32frombits(uint32(m.Bits()))
 	case 2:
-		return math.Float32frombits(uint32(m.bits())&^(0xff<<23) | uint32(117+m.below(20))<<23)
+		return math.Float32frombits(uint32(m.Bits())&^(0xff<<23) | uint32(117+m.Below(20))<<23)
 	}
-	return float32(m.below(9) - 4)
+	return float32(m.Below(9) - 4)
 }
 
 func (m *mixer) number() complex64 { return complex(m.part(), m.part()) }

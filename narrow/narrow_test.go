@@ -43,11 +43,11 @@ func TestTo(t *testing.T) {
 }
 
 func TestToByAnotherRoad(t *testing.T) {
-	mix := mixer(1)
+	mix := mixer{1}
 	for range 30000 {
-		x := math.Float64frombits(mix.bits()&^(0x7ff<<52) | uint64(1023-160+mix.below(290))<<52)
-		if mix.below(2) == 0 { // halfway, or one step beside it
-			x = math.Float64frombits(math.Float64bits(x)>>29<<29 | 1<<28 + uint64(mix.below(3)) - 1)
+		x := math.Float64frombits(mix.Bits()&^(0x7ff<<52) | uint64(1023-160+mix.Below(290))<<52)
+		if mix.Below(2) == 0 { // halfway, or one step beside it
+			x = math.Float64frombits(math.Float64bits(x)>>29<<29 | 1<<28 + uint64(mix.Below(3)) - 1)
 		}
 		want, _ := new(big.Rat).SetFloat64(x).Float32()
 		is(t, narrow.To(complex(x, -x)), complex(want, -want), "P4.1: To(%x, its other)", x)
@@ -55,7 +55,7 @@ func TestToByAnotherRoad(t *testing.T) {
 }
 
 func TestFrom(t *testing.T) {
-	mix := mixer(2)
+	mix := mixer{2}
 	list := corners()
 	for range 10000 {
 		list = append(list, mix.number())
@@ -110,14 +110,14 @@ func TestExact(t *testing.T) {
 
 func TestSame(t *testing.T) {
 	list := corners()
-	mix := mixer(3)
+	mix := mixer{3}
 	for _, a := range list {
 		if !narrow.Same(a, a) {
 			t.Errorf("P4.2: Same(%x, itself) = false", a)
 		}
 		for range 100 {
-			b := list[mix.below(len(list))]
-			if mix.below(2) == 0 {
+			b := list[mix.Below(len(list))]
+			if mix.Below(2) == 0 {
 				b = complex(real(a), imag(b))
 			}
 			if got := narrow.Same(a, b); got != both(a, b) {

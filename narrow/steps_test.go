@@ -6,15 +6,16 @@ import (
 	"testing"
 
 	"quaver/narrow"
+	"quaver/trial"
 )
 
 // everyPair hands pairs of numbers to a test: edges, and mixed ones.
 func everyPair(seed uint64, look func(a, b complex64)) {
-	mix := mixer(seed)
+	mix := mixer{trial.Mixer(seed)}
 	list := corners()
 	for _, a := range list {
 		for range 40 {
-			look(a, list[mix.below(len(list))])
+			look(a, list[mix.Below(len(list))])
 		}
 	}
 	for range 60000 {
@@ -146,7 +147,7 @@ func TestAbs(t *testing.T) {
 		}
 	}
 	list := corners()
-	mix := mixer(5)
+	mix := mixer{5}
 	for range 60000 {
 		list = append(list, mix.number())
 	}
@@ -180,14 +181,14 @@ func TestDot(t *testing.T) {
 	} {
 		is(t, narrow.Dot(c.a, c.b), c.want, "P4.8: Dot(%x, %x)", c.a, c.b)
 	}
-	mix := mixer(6)
+	mix := mixer{6}
 	for range 3000 {
-		a, b := make([]complex64, mix.below(20)), make([]complex64, mix.below(20))
+		a, b := make([]complex64, mix.Below(20)), make([]complex64, mix.Below(20))
 		for i := range a {
-			a[i] = complex(float32(mix.below(2001)-1000)/7, mix.part())
+			a[i] = complex(float32(mix.Below(2001)-1000)/7, mix.part())
 		}
 		for i := range b {
-			b[i] = complex(float32(mix.below(2001)-1000)/9, float32(mix.below(9)))
+			b[i] = complex(float32(mix.Below(2001)-1000)/9, float32(mix.Below(9)))
 		}
 		is(t, narrow.Dot(a, b), dot(a, b), "P4.8: Dot(%x, %x)", a, b)
 	}

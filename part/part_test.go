@@ -7,6 +7,7 @@ import (
 
 	"quaver/api"
 	"quaver/part"
+	"quaver/trial"
 )
 
 const (
@@ -43,17 +44,6 @@ func rising() []float64 {
 // alike: bit by bit; NaNs are one.
 func alike(x, y float64) bool {
 	return math.Float64bits(x) == math.Float64bits(y) || math.IsNaN(x) && math.IsNaN(y)
-}
-
-// mixer makes the same sequence of bits each time.
-type mixer uint64
-
-func (m *mixer) bits() uint64 {
-	*m += 0x9e3779b97f4a7c15
-	z := uint64(*m)
-	z = (z ^ z>>30) * 0xbf58476d1ce4e5b9
-	z = (z ^ z>>27) * 0x94d049bb133111eb
-	return z ^ z>>31
 }
 
 func TestOf(t *testing.T) {
@@ -130,12 +120,12 @@ func nearest(neg bool, m uint64, e int) float64 {
 }
 
 func TestJoinAtEveryPower(t *testing.T) {
-	mix := mixer(1)
+	mix := trial.Mixer(1)
 	for e := -1300; e <= 1100; e++ {
 		list := []uint64{1, 2, 3, 5, 1<<52 - 1, 1 << 52, 1<<52 + 1, 1<<53 - 1, 1 << 53, 1<<53 + 1, 1<<53 + 3, 1<<54 - 1, 1<<54 + 2, 1<<54 + 6, 1<<63 - 1, 1 << 63, 1<<63 + 1, 1<<63 + 1<<10, 1<<63 + 3<<10, 1<<64 - 1<<10, 1<<64 - 1<<10 - 1, math.MaxUint64}
 		for range 20 {
-			r := mix.bits()
-			list = append(list, r>>(mix.bits()%64), r|1<<63, r>>11<<11|1<<10)
+			r := mix.Bits()
+			list = append(list, r>>(mix.Bits()%64), r|1<<63, r>>11<<11|1<<10)
 		}
 		for _, m := range list {
 			for _, neg := range []bool{false, true} {
@@ -169,9 +159,9 @@ func TestJoinFarOutside(t *testing.T) {
 
 func TestJoinOfSplit(t *testing.T) {
 	list := rising()
-	mix := mixer(2)
+	mix := trial.Mixer(2)
 	for range 20000 {
-		list = append(list, math.Float64frombits(mix.bits()))
+		list = append(list, math.Float64frombits(mix.Bits()))
 	}
 	for _, x := range list {
 		if neg, m, e, fault := part.Split(x); fault == api.OK && !alike(part.Join(neg, m, e), x) {
@@ -205,9 +195,9 @@ func TestNextPrev(t *testing.T) {
 }
 
 func TestNextIsBetweenNone(t *testing.T) {
-	mix := mixer(3)
+	mix := trial.Mixer(3)
 	for range 20000 {
-		x := math.Float64frombits(mix.bits())
+		x := math.Float64frombits(mix.Bits())
 		if x == 0 || math.IsNaN(x) || math.IsInf(x, 0) || math.Abs(x) == least {
 			continue
 		}

@@ -4,6 +4,7 @@ import (
 	"math/bits"
 
 	"quaver/api"
+	"quaver/entry"
 	"quaver/exact"
 	"quaver/part"
 )
@@ -25,7 +26,7 @@ func To32(r api.Rat) (float32, api.Errno) {
 
 // near is the number of the format nearest to r: as a float64, which holds the numbers of either format as they are.
 func near(r api.Rat, f format) (float64, api.Errno) {
-	if e := check(r); e != api.OK {
+	if e := entry.Rats(r); e != api.OK {
 		return 0, e
 	}
 	m, e := exact.Near(exact.Read(r), f.bits, f.least)

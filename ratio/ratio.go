@@ -3,24 +3,14 @@ package ratio
 
 import (
 	"quaver/api"
+	"quaver/entry"
 	"quaver/exact"
 	"quaver/part"
 )
 
 // Form: is r in form?
 func Form(r api.Rat) bool {
-	switch {
-	case !trimmed(r.Num) || !trimmed(r.Den) || len(r.Den) == 0:
-		return false
-	case len(r.Num) == 0:
-		return !r.Neg && len(r.Den) == 1 && r.Den[0] == 1
-	}
-	return exact.Coprime(r.Num, r.Den)
-}
-
-// trimmed: is the last limb not nought?
-func trimmed(limbs []uint64) bool {
-	return len(limbs) == 0 || limbs[len(limbs)-1] != 0
+	return entry.InForm(r)
 }
 
 // nought: are all limbs noughts?
@@ -33,35 +23,10 @@ func nought(limbs []uint64) bool {
 	return true
 }
 
-// tooLong: has one of the lists more limbs than may be handed in?
-func tooLong(lists ...[]uint64) bool {
-	for _, limbs := range lists {
-		if len(limbs) > api.MaxLimbs {
-			return true
-		}
-	}
-	return false
-}
-
-// check is the least error of the numbers that are handed in.
-func check(list ...api.Rat) api.Errno {
-	for _, r := range list {
-		if tooLong(r.Num, r.Den) {
-			return api.ErrLong
-		}
-	}
-	for _, r := range list {
-		if !Form(r) {
-			return api.ErrForm
-		}
-	}
-	return api.OK
-}
-
 // Make: num over den, with that sign, in lowest terms.
 func Make(neg bool, num, den []uint64) (api.Rat, api.Errno) {
 	switch {
-	case tooLong(num, den):
+	case entry.TooLong(num, den):
 		return api.Rat{}, api.ErrLong
 	case nought(den):
 		return api.Rat{}, api.ErrZero
@@ -98,7 +63,7 @@ func Mul(a, b api.Rat) (api.Rat, api.Errno) {
 
 func Quo(a, b api.Rat) (api.Rat, api.Errno) {
 	// An error of the numbers' own goes first; b's limbs may be asked for noughts only where it is in form.
-	if e := check(a, b); e != api.OK {
+	if e := entry.Rats(a, b); e != api.OK {
 		return api.Rat{}, e
 	}
 	if len(b.Num) == 0 {
@@ -109,7 +74,7 @@ func Quo(a, b api.Rat) (api.Rat, api.Errno) {
 
 // reckon is what step makes of two numbers, if they may be handed in.
 func reckon(step func(x, y exact.Number) exact.Number, a, b api.Rat) (api.Rat, api.Errno) {
-	if e := check(a, b); e != api.OK {
+	if e := entry.Rats(a, b); e != api.OK {
 		return api.Rat{}, e
 	}
 	return step(exact.Read(a), exact.Read(b)).Rat(), api.OK
@@ -121,7 +86,7 @@ func Neg(r api.Rat) (api.Rat, api.Errno) {
 }
 
 func Cmp(a, b api.Rat) (int, api.Errno) {
-	if e := check(a, b); e != api.OK {
+	if e := entry.Rats(a, b); e != api.OK {
 		return 0, e
 	}
 	return exact.Cmp(exact.Read(a), exact.Read(b)), api.OK
@@ -133,7 +98,7 @@ func Floor(r api.Rat) (api.Rat, api.Errno) {
 
 // turn is what step makes of one number, if it may be handed in.
 func turn(step func(x exact.Number) exact.Number, r api.Rat) (api.Rat, api.Errno) {
-	if e := check(r); e != api.OK {
+	if e := entry.Rats(r); e != api.OK {
 		return api.Rat{}, e
 	}
 	return step(exact.Read(r)).Rat(), api.OK

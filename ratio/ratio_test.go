@@ -8,6 +8,7 @@ import (
 
 	"quaver/api"
 	"quaver/ratio"
+	"quaver/trial"
 )
 
 // binary: the calls of two numbers, and what they do.
@@ -28,21 +29,21 @@ func binaries() []binary {
 
 func TestForm(t *testing.T) {
 	for _, r := range []api.Rat{
-		{Den: []uint64{1}}, {Num: []uint64{}, Den: []uint64{1}}, frac(1, 1), frac(-1, 1), frac(3, 2), frac(-2, 3),
+		{Den: []uint64{1}}, {Num: []uint64{}, Den: []uint64{1}}, trial.Frac(1, 1), trial.Frac(-1, 1), trial.Frac(3, 2), trial.Frac(-2, 3),
 		{Num: []uint64{0, 1}, Den: []uint64{3}}, {Num: []uint64{1}, Den: []uint64{0, 1}}, {Num: []uint64{0, 0, 1}, Den: []uint64{1, 1}},
-		{Num: ones(api.MaxLimbs, math.MaxUint64), Den: []uint64{1}}, {Num: ones(api.MaxLimbs+1, 3), Den: []uint64{0, 2}}, {Num: append(make([]uint64, 9000), 1), Den: ones(9000, 1)},
+		{Num: trial.Ones(api.MaxLimbs, math.MaxUint64), Den: []uint64{1}}, {Num: trial.Ones(api.MaxLimbs+1, 3), Den: []uint64{0, 2}}, {Num: append(make([]uint64, 9000), 1), Den: trial.Ones(9000, 1)},
 	} {
 		if !ratio.Form(r) {
 			t.Errorf("P2.1: Form of %d over %d limbs is false", len(r.Num), len(r.Den))
 		}
 	}
-	for _, r := range wrong() {
+	for _, r := range trial.Wrong() {
 		if ratio.Form(r) {
 			t.Errorf("P2.1: Form(%v) is true", r)
 		}
 	}
 	for _, r := range []api.Rat{
-		{Num: ones(api.MaxLimbs+1, 3), Den: []uint64{0, 3}}, {Num: append(ones(5000, 1), 0), Den: []uint64{1}}, {Neg: true, Num: []uint64{1}, Den: make([]uint64, 5000)},
+		{Num: trial.Ones(api.MaxLimbs+1, 3), Den: []uint64{0, 3}}, {Num: append(trial.Ones(5000, 1), 0), Den: []uint64{1}}, {Neg: true, Num: []uint64{1}, Den: make([]uint64, 5000)},
 	} {
 		if ratio.Form(r) {
 			t.Errorf("P2.1: Form of %d over %d limbs is true", len(r.Num), len(r.Den))
@@ -51,69 +52,69 @@ func TestForm(t *testing.T) {
 }
 
 func TestFormIsLowestTerms(t *testing.T) {
-	mix := mixer(1)
+	mix := trial.Mixer(1)
 	for range 2000 {
-		r := mix.rat(t, 4)
+		r := mix.Rat(4)
 		if !ratio.Form(r) {
 			t.Fatalf("P2.1: Form(%v) is false", r)
 		}
 		if len(r.Num) == 0 {
 			continue
 		}
-		k := new(big.Int).SetUint64(2 + mix.bits()>>mix.below(63)>>1)
-		num, den := new(big.Int).Mul(k, natural(r.Num)), new(big.Int).Mul(k, natural(r.Den))
-		if raised := (api.Rat{Neg: r.Neg, Num: split(num), Den: split(den)}); ratio.Form(raised) {
+		k := new(big.Int).SetUint64(2 + mix.Bits()>>mix.Below(63)>>1)
+		num, den := new(big.Int).Mul(k, trial.Natural(r.Num)), new(big.Int).Mul(k, trial.Natural(r.Den))
+		if raised := (api.Rat{Neg: r.Neg, Num: trial.Split(num), Den: trial.Split(den)}); ratio.Form(raised) {
 			t.Fatalf("P2.1: Form(%v) is true", raised)
 		}
 	}
 }
 
 func TestMake(t *testing.T) {
-	nought := frac(0, 1)
+	nought := trial.Frac(0, 1)
 	for _, c := range []struct {
 		neg      bool
 		num, den []uint64
 		want     api.Rat
 		e        api.Errno
 	}{
-		{true, []uint64{6}, []uint64{4}, frac(-3, 2), api.OK},
-		{false, []uint64{6}, []uint64{4}, frac(3, 2), api.OK},
+		{true, []uint64{6}, []uint64{4}, trial.Frac(-3, 2), api.OK},
+		{false, []uint64{6}, []uint64{4}, trial.Frac(3, 2), api.OK},
 		{true, []uint64{0}, []uint64{5}, nought, api.OK},
 		{true, nil, []uint64{5, 0, 0}, nought, api.OK},
 		{false, []uint64{0, 0}, []uint64{0, 9}, nought, api.OK},
 		{false, []uint64{0, 1}, []uint64{2}, api.Rat{Num: []uint64{1 << 63}, Den: []uint64{1}}, api.OK},
-		{true, []uint64{0, 1, 0}, []uint64{0, 3, 0, 0}, frac(-1, 3), api.OK},
-		{false, []uint64{5, 5}, []uint64{1, 1}, frac(5, 1), api.OK},
+		{true, []uint64{0, 1, 0}, []uint64{0, 3, 0, 0}, trial.Frac(-1, 3), api.OK},
+		{false, []uint64{5, 5}, []uint64{1, 1}, trial.Frac(5, 1), api.OK},
 		{false, []uint64{1}, []uint64{0, 0}, api.Rat{}, api.ErrZero},
 		{true, []uint64{1}, nil, api.Rat{}, api.ErrZero},
 		{true, nil, nil, api.Rat{}, api.ErrZero},
-		{false, ones(api.MaxLimbs+1, 1), nil, api.Rat{}, api.ErrLong},
+		{false, trial.Ones(api.MaxLimbs+1, 1), nil, api.Rat{}, api.ErrLong},
 		{false, nil, make([]uint64, api.MaxLimbs+1), api.Rat{}, api.ErrLong},
 		{true, make([]uint64, api.MaxLimbs+1), []uint64{1}, api.Rat{}, api.ErrLong},
 		{false, []uint64{1}, append([]uint64{1}, make([]uint64, api.MaxLimbs)...), api.Rat{}, api.ErrLong},
 		{false, make([]uint64, api.MaxLimbs), make([]uint64, api.MaxLimbs), api.Rat{}, api.ErrZero},
-		{true, make([]uint64, api.MaxLimbs), ones(api.MaxLimbs, 1), nought, api.OK},
-		{true, ones(api.MaxLimbs, 6), ones(api.MaxLimbs, 4), frac(-3, 2), api.OK},
+		{true, make([]uint64, api.MaxLimbs), trial.Ones(api.MaxLimbs, 1), nought, api.OK},
+		{true, trial.Ones(api.MaxLimbs, 6), trial.Ones(api.MaxLimbs, 4), trial.Frac(-3, 2), api.OK},
 	} {
-		if r, e := ratio.Make(c.neg, c.num, c.den); e != c.e || !alike(r, c.want) {
+		if r, e := ratio.Make(c.neg, c.num, c.den); e != c.e || !trial.Alike(r, c.want) {
 			t.Errorf("P2.2: Make(%v, %d limbs, %d limbs) = %v, %d, want %v, %d", c.neg, len(c.num), len(c.den), r, e, c.want, c.e)
 		}
 	}
 }
 
 func TestMakeIsInForm(t *testing.T) {
-	mix := mixer(2)
+	mix := trial.Mixer(2)
 	for range 5000 {
-		neg, num, den := mix.below(2) == 0, mix.limbs(5), mix.limbs(5)
+		neg, num, den := mix.Below(2) == 0, mix.Limbs(5), mix.Limbs(5)
 		r, e := ratio.Make(neg, num, den)
-		if natural(den).Sign() == 0 {
-			if e != api.ErrZero || !alike(r, api.Rat{}) {
+		if trial.Natural(den).Sign() == 0 {
+			if e != api.ErrZero || !trial.Alike(r, api.Rat{}) {
 				t.Fatalf("P2.2: Make(%v, %v, %v) = %v, %d", neg, num, den, r, e)
 			}
 			continue
 		}
-		want := told(value(api.Rat{Neg: neg, Num: num, Den: den}))
-		if e != api.OK || !alike(r, want) || !ratio.Form(r) {
+		want := trial.Told(trial.Value(api.Rat{Neg: neg, Num: num, Den: den}))
+		if e != api.OK || !trial.Alike(r, want) || !ratio.Form(r) {
 			t.Fatalf("P2.2: Make(%v, %v, %v) = %v, %d, want %v", neg, num, den, r, e, want)
 		}
 	}
@@ -121,8 +122,8 @@ func TestMakeIsInForm(t *testing.T) {
 
 func TestInt(t *testing.T) {
 	for _, n := range []int64{0, 1, -1, 2, 1000, math.MaxInt64, math.MinInt64, math.MinInt64 + 1} {
-		want := told(new(big.Rat).SetInt64(n))
-		if r := ratio.Int(n); !alike(r, want) || !ratio.Form(r) {
+		want := trial.Told(new(big.Rat).SetInt64(n))
+		if r := ratio.Int(n); !trial.Alike(r, want) || !ratio.Form(r) {
 			t.Errorf("P2.3: Int(%d) = %v, want %v", n, r, want)
 		}
 	}
@@ -130,15 +131,15 @@ func TestInt(t *testing.T) {
 
 func TestFrom(t *testing.T) {
 	list := []float64{0, math.Copysign(0, -1), 0.5, -0.75, 1, 3, 0.1, -6, 0x1p-1074, -0x1p-1074, 0x1p-1022, 0x1.fffffffffffffp-1023, 0x1p53, 0x1p64, 0x1p1023, math.MaxFloat64, -math.MaxFloat64}
-	mix := mixer(3)
+	mix := trial.Mixer(3)
 	for range 5000 {
-		if x := math.Float64frombits(mix.bits()); !math.IsNaN(x) && !math.IsInf(x, 0) {
+		if x := math.Float64frombits(mix.Bits()); !math.IsNaN(x) && !math.IsInf(x, 0) {
 			list = append(list, x)
 		}
 	}
 	for _, x := range list {
-		want := told(new(big.Rat).SetFloat64(x))
-		if r, e := ratio.From(x); e != api.OK || !alike(r, want) {
+		want := trial.Told(new(big.Rat).SetFloat64(x))
+		if r, e := ratio.From(x); e != api.OK || !trial.Alike(r, want) {
 			t.Errorf("P2.3: From(%x) = %v, %d, want %v", x, r, e, want)
 		}
 	}
@@ -146,7 +147,7 @@ func TestFrom(t *testing.T) {
 		t.Errorf("P2.3: From(2^-1074) = %v, %d", r, e)
 	}
 	for _, x := range []float64{math.NaN(), math.Inf(1), math.Inf(-1), math.Float64frombits(0xfff0000000000001)} {
-		if r, e := ratio.From(x); e != api.ErrNaN || !alike(r, api.Rat{}) {
+		if r, e := ratio.From(x); e != api.ErrNaN || !trial.Alike(r, api.Rat{}) {
 			t.Errorf("P2.3: From(%g) = %v, %d", x, r, e)
 		}
 	}
@@ -160,50 +161,50 @@ func TestExamplesOfSums(t *testing.T) {
 		want api.Rat
 		e    api.Errno
 	}{
-		{"1/6 + 1/3", ratio.Add, frac(1, 6), frac(1, 3), frac(1, 2), api.OK},
-		{"1/2 - 1/2", ratio.Sub, frac(1, 2), frac(1, 2), frac(0, 1), api.OK},
-		{"-1/6 + 1/6", ratio.Add, frac(-1, 6), frac(1, 6), frac(0, 1), api.OK},
-		{"0 - 0", ratio.Sub, frac(0, 1), frac(0, 1), frac(0, 1), api.OK},
-		{"1/6 - 1/2", ratio.Sub, frac(1, 6), frac(1, 2), frac(-1, 3), api.OK},
-		{"-2/3 * 3/4", ratio.Mul, frac(-2, 3), frac(3, 4), frac(-1, 2), api.OK},
-		{"-2/3 * 0", ratio.Mul, frac(-2, 3), frac(0, 1), frac(0, 1), api.OK},
-		{"0 * -5/4", ratio.Mul, frac(0, 1), frac(-5, 4), frac(0, 1), api.OK},
-		{"1/2 / -1/3", ratio.Quo, frac(1, 2), frac(-1, 3), frac(-3, 2), api.OK},
-		{"-1/2 / -5/4", ratio.Quo, frac(-1, 2), frac(-5, 4), frac(2, 5), api.OK},
-		{"0 / -5/4", ratio.Quo, frac(0, 1), frac(-5, 4), frac(0, 1), api.OK},
-		{"1/2 / 0", ratio.Quo, frac(1, 2), frac(0, 1), api.Rat{}, api.ErrZero},
-		{"0 / 0", ratio.Quo, frac(0, 1), frac(0, 1), api.Rat{}, api.ErrZero},
-		{"2/4 / 0", ratio.Quo, api.Rat{Num: []uint64{2}, Den: []uint64{4}}, frac(0, 1), api.Rat{}, api.ErrForm},
-		{"1 / 0/2", ratio.Quo, frac(1, 1), api.Rat{Den: []uint64{2}}, api.Rat{}, api.ErrForm},
+		{"1/6 + 1/3", ratio.Add, trial.Frac(1, 6), trial.Frac(1, 3), trial.Frac(1, 2), api.OK},
+		{"1/2 - 1/2", ratio.Sub, trial.Frac(1, 2), trial.Frac(1, 2), trial.Frac(0, 1), api.OK},
+		{"-1/6 + 1/6", ratio.Add, trial.Frac(-1, 6), trial.Frac(1, 6), trial.Frac(0, 1), api.OK},
+		{"0 - 0", ratio.Sub, trial.Frac(0, 1), trial.Frac(0, 1), trial.Frac(0, 1), api.OK},
+		{"1/6 - 1/2", ratio.Sub, trial.Frac(1, 6), trial.Frac(1, 2), trial.Frac(-1, 3), api.OK},
+		{"-2/3 * 3/4", ratio.Mul, trial.Frac(-2, 3), trial.Frac(3, 4), trial.Frac(-1, 2), api.OK},
+		{"-2/3 * 0", ratio.Mul, trial.Frac(-2, 3), trial.Frac(0, 1), trial.Frac(0, 1), api.OK},
+		{"0 * -5/4", ratio.Mul, trial.Frac(0, 1), trial.Frac(-5, 4), trial.Frac(0, 1), api.OK},
+		{"1/2 / -1/3", ratio.Quo, trial.Frac(1, 2), trial.Frac(-1, 3), trial.Frac(-3, 2), api.OK},
+		{"-1/2 / -5/4", ratio.Quo, trial.Frac(-1, 2), trial.Frac(-5, 4), trial.Frac(2, 5), api.OK},
+		{"0 / -5/4", ratio.Quo, trial.Frac(0, 1), trial.Frac(-5, 4), trial.Frac(0, 1), api.OK},
+		{"1/2 / 0", ratio.Quo, trial.Frac(1, 2), trial.Frac(0, 1), api.Rat{}, api.ErrZero},
+		{"0 / 0", ratio.Quo, trial.Frac(0, 1), trial.Frac(0, 1), api.Rat{}, api.ErrZero},
+		{"2/4 / 0", ratio.Quo, api.Rat{Num: []uint64{2}, Den: []uint64{4}}, trial.Frac(0, 1), api.Rat{}, api.ErrForm},
+		{"1 / 0/2", ratio.Quo, trial.Frac(1, 1), api.Rat{Den: []uint64{2}}, api.Rat{}, api.ErrForm},
 	} {
-		if r, e := c.call(c.a, c.b); e != c.e || !alike(r, c.want) {
+		if r, e := c.call(c.a, c.b); e != c.e || !trial.Alike(r, c.want) {
 			t.Errorf("P2.5: %s = %v, %d, want %v, %d", c.name, r, e, c.want, c.e)
 		}
 	}
 }
 
 func TestSumsAreExact(t *testing.T) {
-	mix := mixer(4)
+	mix := trial.Mixer(4)
 	for range 3000 {
-		a, b := mix.rat(t, 4), mix.rat(t, 4)
-		switch mix.below(4) {
+		a, b := mix.Rat(4), mix.Rat(4)
+		switch mix.Below(4) {
 		case 0:
 			b.Den = slices.Clone(a.Den)
 			b, _ = ratio.Make(b.Neg, b.Num, b.Den)
 		case 1:
 			b, _ = ratio.Neg(a)
 		case 2: // over powers of two, as floats are
-			a, _ = ratio.Make(a.Neg, a.Num, append(make([]uint64, mix.below(3)), 1<<mix.below(64)))
+			a, _ = ratio.Make(a.Neg, a.Num, append(make([]uint64, mix.Below(3)), 1<<mix.Below(64)))
 		}
 		for _, op := range binaries() {
 			r, e := op.call(a, b)
 			if op.name == "Quo" && len(b.Num) == 0 {
-				if e != api.ErrZero || !alike(r, api.Rat{}) {
+				if e != api.ErrZero || !trial.Alike(r, api.Rat{}) {
 					t.Fatalf("P2.5: Quo(%v, 0) = %v, %d", a, r, e)
 				}
 				continue
 			}
-			if want := told(op.want(new(big.Rat), value(a), value(b))); e != api.OK || !alike(r, want) || !ratio.Form(r) {
+			if want := trial.Told(op.want(new(big.Rat), trial.Value(a), trial.Value(b))); e != api.OK || !trial.Alike(r, want) || !ratio.Form(r) {
 				t.Fatalf("P2.5: %s(%v, %v) = %v, %d, want %v", op.name, a, b, r, e, want)
 			}
 		}
@@ -212,16 +213,16 @@ func TestSumsAreExact(t *testing.T) {
 
 func TestNeg(t *testing.T) {
 	for _, c := range []struct{ r, want api.Rat }{
-		{frac(1, 2), frac(-1, 2)}, {frac(-7, 3), frac(7, 3)}, {frac(0, 1), frac(0, 1)}, {frac(5, 1), frac(-5, 1)},
+		{trial.Frac(1, 2), trial.Frac(-1, 2)}, {trial.Frac(-7, 3), trial.Frac(7, 3)}, {trial.Frac(0, 1), trial.Frac(0, 1)}, {trial.Frac(5, 1), trial.Frac(-5, 1)},
 	} {
-		if r, e := ratio.Neg(c.r); e != api.OK || !alike(r, c.want) {
+		if r, e := ratio.Neg(c.r); e != api.OK || !trial.Alike(r, c.want) {
 			t.Errorf("P2.5: Neg(%v) = %v, %d, want %v", c.r, r, e, c.want)
 		}
 	}
 }
 
 func TestCmp(t *testing.T) {
-	rising := []api.Rat{sum(down(200)), frac(-3, 1), frac(-1, 2), frac(-1, 3), sum(down(-1080)), frac(0, 1), sum(up(-1081)), sum(up(-1080)), frac(1, 3), frac(1, 2), frac(2, 3), frac(1, 1), frac(7, 2), sum(up(200)), sum(up(200), up(-200))}
+	rising := []api.Rat{trial.Sum(trial.Down(200)), trial.Frac(-3, 1), trial.Frac(-1, 2), trial.Frac(-1, 3), trial.Sum(trial.Down(-1080)), trial.Frac(0, 1), trial.Sum(trial.Up(-1081)), trial.Sum(trial.Up(-1080)), trial.Frac(1, 3), trial.Frac(1, 2), trial.Frac(2, 3), trial.Frac(1, 1), trial.Frac(7, 2), trial.Sum(trial.Up(200)), trial.Sum(trial.Up(200), trial.Up(-200))}
 	for i, a := range rising {
 		for j, b := range rising {
 			want := 0
@@ -239,16 +240,16 @@ func TestCmp(t *testing.T) {
 
 func TestFloor(t *testing.T) {
 	for _, c := range []struct{ r, want api.Rat }{
-		{frac(-1, 2), frac(-1, 1)}, {frac(7, 2), frac(3, 1)}, {frac(-7, 2), frac(-4, 1)}, {frac(-3, 1), frac(-3, 1)}, {frac(3, 1), frac(3, 1)}, {frac(0, 1), frac(0, 1)}, {frac(1, 3), frac(0, 1)}, {frac(2, 3), frac(0, 1)}, {frac(-1, 1000), frac(-1, 1)},
-		{sum(up(64), down(-3)), api.Rat{Num: []uint64{math.MaxUint64}, Den: []uint64{1}}}, {sum(down(64), down(-3)), api.Rat{Neg: true, Num: []uint64{1, 1}, Den: []uint64{1}}},
+		{trial.Frac(-1, 2), trial.Frac(-1, 1)}, {trial.Frac(7, 2), trial.Frac(3, 1)}, {trial.Frac(-7, 2), trial.Frac(-4, 1)}, {trial.Frac(-3, 1), trial.Frac(-3, 1)}, {trial.Frac(3, 1), trial.Frac(3, 1)}, {trial.Frac(0, 1), trial.Frac(0, 1)}, {trial.Frac(1, 3), trial.Frac(0, 1)}, {trial.Frac(2, 3), trial.Frac(0, 1)}, {trial.Frac(-1, 1000), trial.Frac(-1, 1)},
+		{trial.Sum(trial.Up(64), trial.Down(-3)), api.Rat{Num: []uint64{math.MaxUint64}, Den: []uint64{1}}}, {trial.Sum(trial.Down(64), trial.Down(-3)), api.Rat{Neg: true, Num: []uint64{1, 1}, Den: []uint64{1}}},
 	} {
-		if r, e := ratio.Floor(c.r); e != api.OK || !alike(r, c.want) {
+		if r, e := ratio.Floor(c.r); e != api.OK || !trial.Alike(r, c.want) {
 			t.Errorf("P2.6: Floor(%v) = %v, %d, want %v", c.r, r, e, c.want)
 		}
 	}
-	mix := mixer(5)
+	mix := trial.Mixer(5)
 	for range 2000 {
-		r := mix.rat(t, 3)
+		r := mix.Rat(3)
 		low, e := ratio.Floor(r)
 		next, _ := ratio.Add(low, ratio.Int(1))
 		from, _ := ratio.Cmp(low, r)
@@ -271,7 +272,7 @@ func TestSameJustWhereAlike(t *testing.T) {
 	for _, a := range list {
 		for _, b := range list {
 			c, e := ratio.Cmp(a, b)
-			if same := value(a).Cmp(value(b)) == 0; e != api.OK || (c == 0) != same || alike(a, b) != same {
+			if same := trial.Value(a).Cmp(trial.Value(b)) == 0; e != api.OK || (c == 0) != same || trial.Alike(a, b) != same {
 				t.Fatalf("P2.7: %v and %v: Cmp %d, %d, one number: %v", a, b, c, e, same)
 			}
 		}
@@ -283,7 +284,7 @@ func fails(a, b api.Rat) map[string]api.Errno {
 	got := map[string]api.Errno{}
 	for _, op := range binaries() {
 		r, e := op.call(a, b)
-		if e != api.OK && !alike(r, api.Rat{}) {
+		if e != api.OK && !trial.Alike(r, api.Rat{}) {
 			e = -1
 		}
 		got[op.name] = e
@@ -297,9 +298,9 @@ func fails(a, b api.Rat) map[string]api.Errno {
 }
 
 func TestWrongPairs(t *testing.T) {
-	good := frac(2, 3)
-	for _, bad := range wrong() {
-		for _, pair := range [][2]api.Rat{{bad, good}, {good, bad}, {bad, bad}, {bad, frac(0, 1)}} {
+	good := trial.Frac(2, 3)
+	for _, bad := range trial.Wrong() {
+		for _, pair := range [][2]api.Rat{{bad, good}, {good, bad}, {bad, bad}, {bad, trial.Frac(0, 1)}} {
 			for name, e := range fails(pair[0], pair[1]) {
 				if e != api.ErrForm {
 					t.Errorf("P2.5, P2.6: %s(%v, %v): %d, want ErrForm", name, pair[0], pair[1], e)
@@ -307,8 +308,8 @@ func TestWrongPairs(t *testing.T) {
 			}
 		}
 	}
-	for i, bad := range long() {
-		for _, other := range append(wrong(), good, frac(0, 1), bad) {
+	for i, bad := range trial.Long() {
+		for _, other := range append(trial.Wrong(), good, trial.Frac(0, 1), bad) {
 			for _, pair := range [][2]api.Rat{{bad, other}, {other, bad}} {
 				for name, e := range fails(pair[0], pair[1]) {
 					if e != api.ErrLong {
@@ -323,10 +324,10 @@ func TestWrongPairs(t *testing.T) {
 func TestWrongSingles(t *testing.T) {
 	check := func(bad api.Rat, want api.Errno) {
 		t.Helper()
-		if r, e := ratio.Neg(bad); e != want || !alike(r, api.Rat{}) {
+		if r, e := ratio.Neg(bad); e != want || !trial.Alike(r, api.Rat{}) {
 			t.Errorf("P2.5: Neg: %v, %d, want %d", r, e, want)
 		}
-		if r, e := ratio.Floor(bad); e != want || !alike(r, api.Rat{}) {
+		if r, e := ratio.Floor(bad); e != want || !trial.Alike(r, api.Rat{}) {
 			t.Errorf("P2.6: Floor: %v, %d, want %d", r, e, want)
 		}
 		if x, e := ratio.To(bad); e != want || math.Float64bits(x) != 0 {
@@ -336,24 +337,24 @@ func TestWrongSingles(t *testing.T) {
 			t.Errorf("P2.4: To32: %g, %d, want %d", x, e, want)
 		}
 	}
-	for _, bad := range wrong() {
+	for _, bad := range trial.Wrong() {
 		check(bad, api.ErrForm)
 	}
-	for _, bad := range long() {
+	for _, bad := range trial.Long() {
 		check(bad, api.ErrLong)
 	}
-	beyond := sum(up(3000))
+	beyond := trial.Sum(trial.Up(3000))
 	beyond.Num = append(beyond.Num, 0)
 	check(beyond, api.ErrForm)
 }
 
 func TestAtTheLimit(t *testing.T) {
 	// Both in form: the limbs of a's Num are even but for the lowest, its Den is a power of two.
-	a := api.Rat{Num: append([]uint64{3}, ones(api.MaxLimbs-1, 1<<63)...), Den: append(make([]uint64, api.MaxLimbs-1), 1<<63)}
-	b := api.Rat{Neg: true, Num: ones(api.MaxLimbs, math.MaxUint64), Den: append(make([]uint64, api.MaxLimbs-1), 1<<40)}
+	a := api.Rat{Num: append([]uint64{3}, trial.Ones(api.MaxLimbs-1, 1<<63)...), Den: append(make([]uint64, api.MaxLimbs-1), 1<<63)}
+	b := api.Rat{Neg: true, Num: trial.Ones(api.MaxLimbs, math.MaxUint64), Den: append(make([]uint64, api.MaxLimbs-1), 1<<40)}
 	for _, op := range binaries() {
 		r, e := op.call(a, b)
-		if want := told(op.want(new(big.Rat), value(a), value(b))); e != api.OK || !alike(r, want) {
+		if want := trial.Told(op.want(new(big.Rat), trial.Value(a), trial.Value(b))); e != api.OK || !trial.Alike(r, want) {
 			t.Errorf("P2.5: %s at MaxLimbs: %d over %d limbs, %d, want %d over %d", op.name, len(r.Num), len(r.Den), e, len(want.Num), len(want.Den))
 		}
 	}
@@ -367,7 +368,7 @@ func TestAtTheLimit(t *testing.T) {
 	if c, e := ratio.Cmp(a, b); c != 1 || e != api.OK {
 		t.Errorf("P2.6: Cmp at MaxLimbs: %d, %d", c, e)
 	}
-	if r, e := ratio.Floor(b); e != api.OK || !alike(r, told(new(big.Rat).SetInt64(-1<<24))) {
+	if r, e := ratio.Floor(b); e != api.OK || !trial.Alike(r, trial.Told(new(big.Rat).SetInt64(-1<<24))) {
 		t.Errorf("P2.6: Floor at MaxLimbs: %v, %d", r, e)
 	}
 }

@@ -1,0 +1,39 @@
+package entry_test
+
+import (
+	"testing"
+
+	"quaver/api"
+	"quaver/entry"
+)
+
+func TestLeast(t *testing.T) {
+	for _, c := range []struct {
+		list []api.Errno
+		want api.Errno
+	}{
+		{nil, api.OK}, {[]api.Errno{api.OK, api.OK}, api.OK}, {[]api.Errno{api.OK, api.ErrOver}, api.ErrOver}, {[]api.Errno{api.ErrOver, api.OK}, api.ErrOver},
+		{[]api.Errno{api.ErrForm, api.OK, api.ErrLong, api.ErrZero}, api.ErrLong}, {[]api.Errno{api.ErrArg, api.ErrName}, api.ErrArg}, {[]api.Errno{api.ErrName, api.ErrNone}, api.ErrNone},
+	} {
+		if e := entry.Least(c.list...); e != c.want {
+			t.Errorf("the least of %v is %d, want %d", c.list, e, c.want)
+		}
+	}
+}
+
+func TestDegreesUpToMost(t *testing.T) {
+	one := api.Rat{Num: []uint64{1}, Den: []uint64{1}}
+	p := make(api.Poly, 5)
+	for i := range p {
+		p[i] = api.Gauss{Re: one, Im: one}
+	}
+	for most, want := range []api.Errno{api.ErrLong, api.ErrLong, api.ErrLong, api.ErrLong, api.OK, api.OK} {
+		e, f, g := entry.Polys(most, p), entry.Polys(most, nil, p), entry.Polys(most, p, p[:1])
+		if e != want || f != want || g != want {
+			t.Errorf("a polynomial of degree 4, where %d may be: %d, %d, %d, want %d", most, e, f, g, want)
+		}
+	}
+	if e := entry.Polys(0); e != api.OK {
+		t.Errorf("no polynomials: %d", e)
+	}
+}
