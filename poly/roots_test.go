@@ -177,3 +177,47 @@ func TestSquareOfFloats(t *testing.T) {
 		t.Errorf("P6.6: Square of ten roots once and ten twice: %d powers, %d", len(got), e)
 	}
 }
+
+// small is a polynomial of coefficients with parts -1, 0 and 1: such ones have many roots in common.
+func small(mix *trial.Mixer) api.Poly {
+	p := make(api.Poly, mix.Below(6))
+	for i := range p {
+		p[i] = trial.Whole(int64(mix.Below(3))-1, int64(mix.Below(5)/2)*int64(mix.Below(2)))
+	}
+	return trial.ValuePoly(p).Poly()
+}
+
+// derived is p's derivative, by another road.
+func derived(p trial.Line) trial.Line {
+	var list trial.Line
+	for i, c := range p {
+		list = append(list, trial.ValueGauss(trial.Whole(int64(i), 0)).Mul(c))
+	}
+	return list[min(1, len(list)):].Trim()
+}
+
+func TestSmallOnes(t *testing.T) {
+	mix := trial.Mixer(12)
+	for range 1500 {
+		p, q := small(&mix), small(&mix)
+		want := trial.ValuePoly(p).Gcd(trial.ValuePoly(q)).Poly()
+		if g, e := poly.Gcd(p, q); e != api.OK || !trial.AlikePoly(g, want) {
+			t.Fatalf("P6.4: Gcd(%v, %v) = %v, %d, want %v", p, q, g, e, want)
+		}
+		all := product(p, q, q)
+		list, e := poly.Square(all)
+		if len(all) == 0 {
+			continue
+		}
+		back := trial.Reals(1)
+		roots := trial.ValuePoly(back)
+		for i, s := range list {
+			back = product(back, power(s, i+1))
+			roots = roots.Mul(trial.ValuePoly(s))
+		}
+		// No root twice in one of them, none in two of them: none twice in their product.
+		if e != api.OK || !trial.AlikePoly(back, trial.ValuePoly(all).Monic().Poly()) || len(roots.Gcd(derived(roots))) != 1 || len(list) > 0 && len(list[len(list)-1]) < 2 {
+			t.Fatalf("P6.6: Square(%v) = %v, %d", all, list, e)
+		}
+	}
+}
