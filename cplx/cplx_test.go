@@ -3,11 +3,11 @@ package cplx_test
 import (
 	"math"
 	"slices"
-	"sync"
 	"testing"
 
 	"quaver/api"
 	"quaver/cplx"
+	"quaver/trial"
 )
 
 func TestSame(t *testing.T) {
@@ -22,7 +22,7 @@ func TestSame(t *testing.T) {
 			if mix.Below(2) == 0 {
 				b = complex(real(a), imag(b))
 			}
-			if got := cplx.Same(a, b); got != both(a, b) {
+			if got := cplx.Same(a, b); got != trial.AlikeNumber(a, b) {
 				t.Errorf("P3.1: Same(%x, %x) = %v", a, b, got)
 			}
 		}
@@ -31,7 +31,7 @@ func TestSame(t *testing.T) {
 		a, b complex128
 		want bool
 	}{
-		{complex(minus, 0), 0, false}, {complex(0, minus), 0, false}, {complex(nan, 1), complex(turned(nan), 1), true}, {complex(1, nan), complex(1, math.Float64frombits(0x7ff0000000000001)), true}, {complex(nan, 1), complex(nan, 2), false}, {complex(nan, 1), complex(1, nan), false}, {complex(nan, nan), complex(nan, infinity), false}, {complex(infinity, 1), complex(-infinity, 1), false}, {complex(1, 2), complex(2, 1), false},
+		{complex(minus, 0), 0, false}, {complex(0, minus), 0, false}, {complex(nan, 1), complex(trial.Turned(nan), 1), true}, {complex(1, nan), complex(1, math.Float64frombits(0x7ff0000000000001)), true}, {complex(nan, 1), complex(nan, 2), false}, {complex(nan, 1), complex(1, nan), false}, {complex(nan, nan), complex(nan, infinity), false}, {complex(infinity, 1), complex(-infinity, 1), false}, {complex(1, 2), complex(2, 1), false},
 	} {
 		if cplx.Same(c.a, c.b) != c.want || cplx.Same(c.b, c.a) != c.want {
 			t.Errorf("P3.1: Same(%x, %x) = %v", c.a, c.b, !c.want)
@@ -45,7 +45,7 @@ func TestOfAndFinite(t *testing.T) {
 		api.Subnormal: {least, -least, leastNormal - least},
 		api.Normal:    {leastNormal, -leastNormal, 1, -greatest},
 		api.Infinite:  {infinity, -infinity},
-		api.NaN:       {nan, turned(nan), math.Float64frombits(0x7ff0000000000001)},
+		api.NaN:       {nan, trial.Turned(nan), math.Float64frombits(0x7ff0000000000001)},
 	}
 	for i, reals := range classes {
 		for j, imags := range classes {
@@ -89,7 +89,7 @@ func TestOrder(t *testing.T) {
 		a, b complex128
 		want int
 	}{
-		{complex(minus, 1), complex(0, 0), -1}, {complex(0, nan), complex(0, infinity), 1}, {complex(nan, 0), complex(turned(nan), 0), 0}, {complex(nan, 0), complex(turned(nan), 1), -1}, {2, complex(1, 9), 1},
+		{complex(minus, 1), complex(0, 0), -1}, {complex(0, nan), complex(0, infinity), 1}, {complex(nan, 0), complex(trial.Turned(nan), 0), 0}, {complex(nan, 0), complex(trial.Turned(nan), 1), -1}, {2, complex(1, 9), 1},
 	} {
 		if got := cplx.Order(c.a, c.b); got != c.want {
 			t.Errorf("P3.8: Order(%x, %x) = %d, want %d", c.a, c.b, got, c.want)
@@ -120,7 +120,7 @@ func TestUnlike(t *testing.T) {
 		{[]complex128{complex(0, least), 0, complex(0, 2*least)}, []complex128{complex(0, least), 0, complex(0, 2*least)}},
 		{[]complex128{3, 1, 2, 1, 3}, []complex128{3, 1, 2}}, {[]complex128{complex(1, 2), complex(2, 1)}, []complex128{complex(1, 2), complex(2, 1)}},
 	} {
-		if got := cplx.Unlike(c.list); !slices.EqualFunc(got, c.want, both) {
+		if got := cplx.Unlike(c.list); !trial.AlikeNumbers(got, c.want) {
 			t.Errorf("P3.9: Unlike(%v) = %v, want %v", c.list, got, c.want)
 		}
 	}
@@ -133,7 +133,7 @@ func TestUnlike(t *testing.T) {
 				list[i] = list[mix.Below(i)]
 			}
 		}
-		if got, want := cplx.Unlike(list), firsts(list); !slices.EqualFunc(got, want, both) {
+		if got, want := cplx.Unlike(list), firsts(list); !trial.AlikeNumbers(got, want) {
 			t.Errorf("P3.9: Unlike(%v) = %v, want %v", list, got, want)
 		}
 	}
@@ -146,7 +146,7 @@ func TestUnlikeOfMany(t *testing.T) {
 		list[i] = complex(float64(i%n%256), float64(i%n/256))
 	}
 	got := cplx.Unlike(list)
-	if !slices.EqualFunc(got, list[:n], both) {
+	if !trial.AlikeNumbers(got, list[:n]) {
 		t.Errorf("P3.9: Unlike of %d numbers twice: %d", n, len(got))
 	}
 	for i := range list {
@@ -158,49 +158,13 @@ func TestUnlikeOfMany(t *testing.T) {
 }
 
 func TestUnlikeMemory(t *testing.T) {
-	const mark = complex(77, -77)
-	for _, was := range [][]complex128{{}, {5}, {1, 2, 3}, {1, 1, 2}, {complex(nan, 0), 0, complex(minus, 0)}, {4, 4, 4, 4}} {
-		whole := append(slices.Clone(was), slices.Repeat([]complex128{mark}, 4)...)
-		list := whole[:len(was)]
-		first := cplx.Unlike(list)
-		kept := slices.Clone(first)
-		if !slices.EqualFunc(list, was, both) || !slices.Equal(whole[len(was):], slices.Repeat([]complex128{mark}, 4)) {
-			t.Errorf("Memory: Unlike(%v) changed what it was given", was)
-		}
-		second := cplx.Unlike(list)
-		scrawl(second)
-		scrawl(whole)
-		if !slices.EqualFunc(first, kept, both) {
-			t.Errorf("Memory: Unlike(%v): the answer shares memory with the list or with another answer", was)
-		}
-		copy(whole, was)
-		scrawl(first)
-		if !slices.EqualFunc(list, was, both) || !slices.EqualFunc(cplx.Unlike(list), kept, both) {
-			t.Errorf("Memory: Unlike(%v) hangs on an earlier answer", was)
+	unlike := func(args [][]complex128) [][]complex128 { return [][]complex128{cplx.Unlike(args[0])} }
+	for _, list := range [][]complex128{{}, {5}, {1, 2, 3}, {1, 1, 2}, {complex(nan, 0), 0, complex(minus, 0)}, {4, 4, 4, 4}} {
+		if fault := trial.TouchedLists(unlike, list); fault != "" {
+			t.Errorf("Memory: Unlike(%v): %s", list, fault)
 		}
 	}
-}
-
-// scrawl writes over all of a list, its spare room too.
-func scrawl(list []complex128) {
-	whole := list[:cap(list)]
-	for i := range whole {
-		whole[i] = complex(-9, 9)
-	}
-}
-
-func TestManyAtATime(t *testing.T) {
-	list := append(corners(), corners()...)
-	want := cplx.Unlike(list)
-	got := make([][]complex128, 8)
-	var group sync.WaitGroup
-	for i := range got {
-		group.Go(func() { got[i] = cplx.Unlike(list) })
-	}
-	group.Wait()
-	for _, one := range got {
-		if !slices.EqualFunc(one, want, both) {
-			t.Error("P2: Unlike answers another list beside others than alone")
-		}
+	if fault := trial.BesideLists(unlike, append(corners(), corners()...)); fault != "" {
+		t.Errorf("P2: Unlike: %s", fault)
 	}
 }

@@ -6,11 +6,12 @@ import (
 	"testing"
 
 	"quaver/cplx"
+	"quaver/trial"
 )
 
 // scaled is Scale by another road.
 func scaled(x float64, a complex128) complex128 {
-	return complex(times(x, real(a)), times(x, imag(a)))
+	return complex(trial.Times(x, real(a)), trial.Times(x, imag(a)))
 }
 
 // rooted is P3.7 by another road.
@@ -18,7 +19,7 @@ func rooted(a complex128) complex128 {
 	ar, ai := real(a), imag(a)
 	most := max(math.Abs(ar), math.Abs(ai))
 	switch {
-	case !finite(ar) || !finite(ai):
+	case !trial.Finite(ar) || !trial.Finite(ai):
 		return complex(nan, nan)
 	case ar == 0 && ai == 0:
 		return complex(0, ai)
@@ -27,8 +28,8 @@ func rooted(a complex128) complex128 {
 	case most < 0x1p-900:
 		return scaled(0x1p-100, rooted(scaled(0x1p200, a)))
 	}
-	u := root(times(plus(math.Abs(ar), magnitude(a)), 0.5))
-	v := over(ai, times(2, u))
+	u := trial.Root(trial.Times(trial.Plus(math.Abs(ar), magnitude(a)), 0.5))
+	v := trial.Over(ai, trial.Times(2, u))
 	if ar >= 0 {
 		return complex(u, v)
 	}
@@ -50,7 +51,7 @@ func TestSqrt(t *testing.T) {
 		// 4: below 2^-900.
 		{0x1p-902, 0x1p-451}, {least, 0x1p-537}, {-least, complex(0, 0x1p-537)}, {complex(0, 8*least), complex(0x1p-536, 0x1p-536)}, {complex(3*least, 4*least), complex(0x1p-536, 0x1p-537)}, {complex(-3*least, -4*least), complex(0x1p-537, -0x1p-536)},
 	} {
-		is(t, cplx.Sqrt(c.a), c.want, "P3.7: Sqrt(%x)", c.a)
+		trial.Is(t, cplx.Sqrt(c.a), c.want, "P3.7: Sqrt(%x)", c.a)
 	}
 }
 
@@ -70,7 +71,7 @@ func TestSqrtByAnotherRoad(t *testing.T) {
 	}
 	for _, a := range list {
 		got := cplx.Sqrt(a)
-		is(t, got, rooted(a), "P3.7: Sqrt(%x)", a)
+		trial.Is(t, got, rooted(a), "P3.7: Sqrt(%x)", a)
 		if !cplx.Finite(a) {
 			continue
 		}
@@ -82,13 +83,13 @@ func TestSqrtByAnotherRoad(t *testing.T) {
 
 // squareNear: is r * r within so much of a, as a share of a's size?
 func squareNear(r, a complex128, share float64) bool {
-	x, y := true64(real(r)), true64(imag(r))
+	x, y := trial.True(real(r)), trial.True(imag(r))
 	re := new(big.Rat).Sub(new(big.Rat).Mul(x, x), new(big.Rat).Mul(y, y))
 	im := new(big.Rat).Mul(x, y)
 	im.Add(im, im)
-	off := new(big.Rat).Add(new(big.Rat).Abs(re.Sub(re, true64(real(a)))), new(big.Rat).Abs(im.Sub(im, true64(imag(a)))))
-	size := new(big.Rat).Add(new(big.Rat).Abs(true64(real(a))), new(big.Rat).Abs(true64(imag(a))))
-	return off.Cmp(size.Mul(size, true64(share))) <= 0
+	off := new(big.Rat).Add(new(big.Rat).Abs(re.Sub(re, trial.True(real(a)))), new(big.Rat).Abs(im.Sub(im, trial.True(imag(a)))))
+	size := new(big.Rat).Add(new(big.Rat).Abs(trial.True(real(a))), new(big.Rat).Abs(trial.True(imag(a))))
+	return off.Cmp(size.Mul(size, trial.True(share))) <= 0
 }
 
 func TestSqrtIsARoot(t *testing.T) {

@@ -5,19 +5,20 @@ import (
 	"testing"
 
 	"quaver/cplx"
+	"quaver/trial"
 )
 
 func TestConjTurnScale(t *testing.T) {
 	for _, a := range corners() {
 		ar, ai := real(a), imag(a)
-		is(t, cplx.Conj(a), complex(ar, turned(ai)), "P3.2: Conj(%x)", a)
-		is(t, cplx.Turn(a), complex(turned(ai), ar), "P3.2: Turn(%x)", a)
+		trial.Is(t, cplx.Conj(a), complex(ar, trial.Turned(ai)), "P3.2: Conj(%x)", a)
+		trial.Is(t, cplx.Turn(a), complex(trial.Turned(ai), ar), "P3.2: Turn(%x)", a)
 	}
-	is(t, cplx.Conj(complex(infinity, 0)), complex(infinity, minus), "P3.2: Conj(inf, 0)")
-	is(t, cplx.Conj(complex(minus, -infinity)), complex(minus, infinity), "P3.2: Conj(-0, -inf)")
-	is(t, cplx.Turn(1), complex(minus, 1), "P3.2: Turn(1)")
-	is(t, cplx.Turn(complex(minus, minus)), complex(0, minus), "P3.2: Turn(-0, -0)")
-	is(t, cplx.Turn(complex(2, infinity)), complex(-infinity, 2), "P3.2: Turn(2, inf)")
+	trial.Is(t, cplx.Conj(complex(infinity, 0)), complex(infinity, minus), "P3.2: Conj(inf, 0)")
+	trial.Is(t, cplx.Conj(complex(minus, -infinity)), complex(minus, infinity), "P3.2: Conj(-0, -inf)")
+	trial.Is(t, cplx.Turn(1), complex(minus, 1), "P3.2: Turn(1)")
+	trial.Is(t, cplx.Turn(complex(minus, minus)), complex(0, minus), "P3.2: Turn(-0, -0)")
+	trial.Is(t, cplx.Turn(complex(2, infinity)), complex(-infinity, 2), "P3.2: Turn(2, inf)")
 
 	for _, c := range []struct {
 		x       float64
@@ -27,19 +28,13 @@ func TestConjTurnScale(t *testing.T) {
 		{0, complex(infinity, 7), complex(nan, 0)}, {infinity, complex(0, -1), complex(nan, -infinity)}, {nan, complex(1, 0), complex(nan, nan)}, {1, complex(nan, 2), complex(nan, 2)},
 		{2, complex(greatest, -greatest), complex(infinity, -infinity)}, {0.5, complex(least, 3*least), complex(0, 2*least)}, {-0.5, complex(least, -3*least), complex(minus, 2*least)}, {0.1, complex(3, 0.1), complex(0.30000000000000004, 0.010000000000000002)},
 	} {
-		is(t, cplx.Scale(c.x, c.a), c.want, "P3.2: Scale(%x, %x)", c.x, c.a)
+		trial.Is(t, cplx.Scale(c.x, c.a), c.want, "P3.2: Scale(%x, %x)", c.x, c.a)
 	}
 	mix := mixer{1}
 	for range 5000 {
 		x, a := mix.part(), mix.number()
-		is(t, cplx.Scale(x, a), complex(times(x, real(a)), times(x, imag(a))), "P3.2: Scale(%x, %x)", x, a)
+		trial.Is(t, cplx.Scale(x, a), complex(trial.Times(x, real(a)), trial.Times(x, imag(a))), "P3.2: Scale(%x, %x)", x, a)
 	}
-}
-
-// product is P3.3 by another road.
-func product(a, b complex128) complex128 {
-	ar, ai, br, bi := real(a), imag(a), real(b), imag(b)
-	return complex(less(times(ar, br), times(ai, bi)), plus(times(ar, bi), times(ai, br)))
 }
 
 func TestMul(t *testing.T) {
@@ -56,12 +51,12 @@ func TestMul(t *testing.T) {
 		{complex(minus, 0), complex(1, 0), complex(minus, 0)}, {complex(0, minus), complex(1, 0), complex(0, 0)}, {complex(0, minus), complex(1, minus), complex(0, minus)}, {complex(minus, minus), complex(0, 0), complex(0, minus)},
 		{complex(least, 0), complex(0.5, 0), complex(0, 0)}, {complex(least, least), complex(0.5, 1), complex(-least, least)}, {complex(0x1p-540, 0), complex(0x1p-534, 0), complex(least, 0)},
 	} {
-		is(t, cplx.Mul(c.a, c.b), c.want, "P3.3: Mul(%x, %x)", c.a, c.b)
+		trial.Is(t, cplx.Mul(c.a, c.b), c.want, "P3.3: Mul(%x, %x)", c.a, c.b)
 	}
 	mix := mixer{2}
 	for range 10000 {
 		a, b := mix.number(), mix.number()
-		is(t, cplx.Mul(a, b), product(a, b), "P3.3: Mul(%x, %x)", a, b)
+		trial.Is(t, cplx.Mul(a, b), trial.Product(a, b), "P3.3: Mul(%x, %x)", a, b)
 	}
 }
 
@@ -69,13 +64,13 @@ func TestMul(t *testing.T) {
 func quotient(a, b complex128) complex128 {
 	ar, ai, br, bi := real(a), imag(a), real(b), imag(b)
 	if math.Abs(br) >= math.Abs(bi) {
-		t := over(bi, br)
-		d := plus(br, times(bi, t))
-		return complex(over(plus(ar, times(ai, t)), d), over(less(ai, times(ar, t)), d))
+		t := trial.Over(bi, br)
+		d := trial.Plus(br, trial.Times(bi, t))
+		return complex(trial.Over(trial.Plus(ar, trial.Times(ai, t)), d), trial.Over(trial.Less(ai, trial.Times(ar, t)), d))
 	}
-	t := over(br, bi)
-	d := plus(bi, times(br, t))
-	return complex(over(plus(times(ar, t), ai), d), over(less(times(ai, t), ar), d))
+	t := trial.Over(br, bi)
+	d := trial.Plus(bi, trial.Times(br, t))
+	return complex(trial.Over(trial.Plus(trial.Times(ar, t), ai), d), trial.Over(trial.Less(trial.Times(ai, t), ar), d))
 }
 
 func TestDiv(t *testing.T) {
@@ -89,22 +84,22 @@ func TestDiv(t *testing.T) {
 		{complex(greatest, greatest), complex(greatest, greatest), complex(nan, 0)}, {complex(greatest, 0), complex(0.5, 0), complex(infinity, 0)}, {complex(1, 0), complex(greatest, greatest), complex(0, minus)},
 		{complex(1, 0), complex(least, 0), complex(infinity, 0)}, {complex(least, 0), complex(least, 0), complex(1, 0)}, {complex(least, least), complex(2, 0), complex(0, 0)}, {complex(0, 3*least), complex(2, 0), complex(0, 2*least)},
 	} {
-		is(t, cplx.Div(c.a, c.b), c.want, "P3.4: Div(%x, %x)", c.a, c.b)
+		trial.Is(t, cplx.Div(c.a, c.b), c.want, "P3.4: Div(%x, %x)", c.a, c.b)
 	}
 	for _, a := range corners() {
 		for _, b := range []complex128{complex(0, 0), complex(0, minus), complex(minus, 0), complex(minus, minus)} {
-			is(t, cplx.Div(a, b), complex(nan, nan), "P3.4: Div(%x, %x)", a, b)
+			trial.Is(t, cplx.Div(a, b), complex(nan, nan), "P3.4: Div(%x, %x)", a, b)
 		}
 	}
 	for _, a := range []complex128{complex(1, -3), complex(infinity, 2), complex(minus, 0.1)} {
 		for _, b := range corners() {
-			is(t, cplx.Div(a, b), quotient(a, b), "P3.4: Div(%x, %x)", a, b)
+			trial.Is(t, cplx.Div(a, b), quotient(a, b), "P3.4: Div(%x, %x)", a, b)
 		}
 	}
 	mix := mixer{3}
 	for range 6000 {
 		a, b := mix.number(), mix.number()
-		is(t, cplx.Div(a, b), quotient(a, b), "P3.4: Div(%x, %x)", a, b)
+		trial.Is(t, cplx.Div(a, b), quotient(a, b), "P3.4: Div(%x, %x)", a, b)
 	}
 }
 
@@ -118,7 +113,7 @@ func TestAbs2(t *testing.T) {
 		// Fused with the sum either square makes these 0.09999999999999999 and 0.39999999999999997.
 		{complex(0.1, 0.3), 0.1}, {complex(0.6, -0.2), 0.4},
 	} {
-		if x := cplx.Abs2(c.a); !alike(x, c.want) {
+		if x := cplx.Abs2(c.a); !trial.AlikeFloat(x, c.want) {
 			t.Errorf("P3.5: Abs2(%x) = %x, want %x", c.a, x, c.want)
 		}
 	}
@@ -128,8 +123,8 @@ func TestAbs2(t *testing.T) {
 		list = append(list, mix.number())
 	}
 	for _, a := range list {
-		want := plus(times(real(a), real(a)), times(imag(a), imag(a)))
-		if x := cplx.Abs2(a); !alike(x, want) {
+		want := trial.Plus(trial.Times(real(a), real(a)), trial.Times(imag(a), imag(a)))
+		if x := cplx.Abs2(a); !trial.AlikeFloat(x, want) {
 			t.Errorf("P3.5: Abs2(%x) = %x, want %x", a, x, want)
 		}
 	}
@@ -150,8 +145,8 @@ func magnitude(a complex128) float64 {
 	if m == 0 {
 		return 0
 	}
-	t := over(n, m)
-	return times(m, root(plus(1, times(t, t))))
+	t := trial.Over(n, m)
+	return trial.Times(m, trial.Root(trial.Plus(1, trial.Times(t, t))))
 }
 
 func TestAbs(t *testing.T) {
@@ -164,7 +159,7 @@ func TestAbs(t *testing.T) {
 		{complex(nan, -infinity), infinity}, {complex(-infinity, nan), infinity}, {complex(infinity, 0), infinity}, {complex(infinity, -infinity), infinity}, {complex(0, nan), nan}, {complex(nan, 1), nan}, {complex(nan, nan), nan},
 		{complex(-least, 0), least}, {complex(least, least), least}, {complex(0, -2), 2}, {complex(greatest, 0), greatest}, {complex(minus, -greatest), greatest}, {complex(greatest, greatest), infinity}, {complex(0x1p1023, 0x1p1022), 0x1.1e3779b97f4a8p1023}, {complex(3*least, 4*least), 5 * least},
 	} {
-		if x := cplx.Abs(c.a); !alike(x, c.want) {
+		if x := cplx.Abs(c.a); !trial.AlikeFloat(x, c.want) {
 			t.Errorf("P3.6: Abs(%x) = %x, want %x", c.a, x, c.want)
 		}
 	}
@@ -174,7 +169,7 @@ func TestAbs(t *testing.T) {
 		list = append(list, mix.number())
 	}
 	for _, a := range list {
-		if x, want := cplx.Abs(a), magnitude(a); !alike(x, want) {
+		if x, want := cplx.Abs(a), magnitude(a); !trial.AlikeFloat(x, want) {
 			t.Errorf("P3.6: Abs(%x) = %x, want %x", a, x, want)
 		}
 	}
