@@ -11,25 +11,6 @@ import (
 	"quaver/trial"
 )
 
-// dotOf is the complex128 nearest to the true sum of the true products, by another road, and the error.
-func dotOf(a, b []complex128) (complex128, api.Errno) {
-	finite := func(z complex128) bool { return trial.Finite(real(z)) && trial.Finite(imag(z)) }
-	whole := trial.Complex{Re: new(big.Rat), Im: new(big.Rat)}
-	for i := range a {
-		if !finite(a[i]) || !finite(b[i]) {
-			return 0, api.ErrNaN
-		}
-		x := trial.Complex{Re: trial.True(real(a[i])), Im: trial.True(imag(a[i]))}
-		y := trial.Complex{Re: trial.True(real(b[i])), Im: trial.True(imag(b[i]))}
-		whole = whole.Add(x.Mul(y))
-	}
-	z := complex(trial.Rounded(whole.Re, 1), trial.Rounded(whole.Im, 1))
-	if !finite(z) {
-		return 0, api.ErrOver
-	}
-	return z, api.OK
-}
-
 // ones is as many ones as a list has numbers.
 func ones(list []complex128) []complex128 {
 	return slices.Repeat([]complex128{1}, len(list))
@@ -116,7 +97,7 @@ func finiteLists(seed trial.Mixer, n int) [][]complex128 {
 func TestExactByAnotherRoad(t *testing.T) {
 	seen := map[api.Errno]int{}
 	for _, list := range append(lists(10, 150), finiteLists(11, 300)...) {
-		want, fault := dotOf(list, ones(list))
+		want, fault := trial.NearestDot(list, ones(list))
 		z, e := sum.Exact(list)
 		if e != fault {
 			t.Errorf("P8.5: Exact(%x): %d, want %d", list, e, fault)
@@ -132,7 +113,7 @@ func TestExactByAnotherRoad(t *testing.T) {
 				b[i] = complex(math.Ldexp(real(b[i]), -math.Ilogb(real(x))), imag(b[i]))
 			}
 		}
-		want, fault := dotOf(a, b)
+		want, fault := trial.NearestDot(a, b)
 		z, e := sum.ExactDot(a, b)
 		if e != fault {
 			t.Errorf("P8.6: ExactDot(%x, %x): %d, want %d", a, b, e, fault)

@@ -3,6 +3,8 @@ package trial
 import (
 	"math"
 	"math/big"
+
+	"quaver/api"
 )
 
 // The steps of float64 by another road: worked out with true numbers, and rounded by math/big.
@@ -82,12 +84,35 @@ func Root(x float64) float64 {
 	return f
 }
 
-// Both is a + b, part by part; Product is P3.3.
+// Both is a + b, Apart a - b, part by part; Product is P3.3.
 func Both(a, b complex128) complex128 {
 	return complex(Plus(real(a), real(b)), Plus(imag(a), imag(b)))
+}
+
+func Apart(a, b complex128) complex128 {
+	return complex(Less(real(a), real(b)), Less(imag(a), imag(b)))
 }
 
 func Product(a, b complex128) complex128 {
 	ar, ai, br, bi := real(a), imag(a), real(b), imag(b)
 	return complex(Less(Times(ar, br), Times(ai, bi)), Plus(Times(ar, bi), Times(ai, br)))
+}
+
+// NearestDot is the complex128 nearest to the true sum of the true products, by another road, and the error.
+func NearestDot(a, b []complex128) (complex128, api.Errno) {
+	finite := func(z complex128) bool { return Finite(real(z)) && Finite(imag(z)) }
+	whole := Complex{Re: new(big.Rat), Im: new(big.Rat)}
+	for i := range a {
+		if !finite(a[i]) || !finite(b[i]) {
+			return 0, api.ErrNaN
+		}
+		x := Complex{Re: True(real(a[i])), Im: True(imag(a[i]))}
+		y := Complex{Re: True(real(b[i])), Im: True(imag(b[i]))}
+		whole = whole.Add(x.Mul(y))
+	}
+	z := complex(Rounded(whole.Re, 1), Rounded(whole.Im, 1))
+	if !finite(z) {
+		return 0, api.ErrOver
+	}
+	return z, api.OK
 }
