@@ -83,6 +83,14 @@ func Polys(most int, list ...api.Poly) api.Errno {
 	return api.OK
 }
 
+// Rooted is the least error of a polynomial that may not be nought, whose degree may reach most.
+func Rooted(most int, p api.Poly) api.Errno {
+	if len(p) == 0 {
+		return api.ErrZero
+	}
+	return Polys(most, p)
+}
+
 // Least is the error that goes first of these: the one with the least number.
 func Least(list ...api.Errno) api.Errno {
 	first := api.OK

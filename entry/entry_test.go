@@ -36,4 +36,9 @@ func TestDegreesUpToMost(t *testing.T) {
 	if e := entry.Polys(0); e != api.OK {
 		t.Errorf("no polynomials: %d", e)
 	}
+	for most, want := range []api.Errno{api.ErrLong, api.ErrLong, api.ErrLong, api.ErrLong, api.OK} {
+		if e, f := entry.Rooted(most, p), entry.Rooted(most, nil); e != want || f != api.ErrZero {
+			t.Errorf("a polynomial of degree 4, where %d may be, and nought: %d, %d, want %d, ErrZero", most, e, f, want)
+		}
+	}
 }

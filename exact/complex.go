@@ -14,7 +14,12 @@ func ReadComplex(g api.Gauss) Complex {
 
 // Real is the number n without an imaginary part.
 func Real(n int64) Complex {
-	return Complex{Int(n), Int(0)}
+	return Int(n).Complex()
+}
+
+// Complex is x without an imaginary part.
+func (x Number) Complex() Complex {
+	return Complex{x, Int(0)}
 }
 
 // Gauss is a in form, in new memory.

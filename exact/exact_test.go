@@ -146,3 +146,24 @@ func TestComplexStays(t *testing.T) {
 		}
 	}
 }
+
+func TestWhole(t *testing.T) {
+	mix := trial.Mixer(21)
+	for round := range 2000 {
+		r := mix.Rat(1 + round%4)
+		n := mix.Below(400) - 200
+		x := exact.Read(r)
+		value := new(big.Rat).Mul(trial.Value(r), trial.Up(n))
+		want := new(big.Int).Div(value.Num(), value.Denom())
+		if got := x.Whole(n); got.Cmp(want) != 0 {
+			t.Fatalf("%v times 2^%d, rounded down, is %v, want %v", r, n, got, want)
+		}
+		size := new(big.Rat).Abs(trial.Value(r))
+		if size.Cmp(trial.Up(x.Reach())) >= 0 || x.Sign() != 0 && size.Cmp(trial.Up(x.Reach()-2)) < 0 {
+			t.Fatalf("%v reaches 2^%d", r, x.Reach())
+		}
+		if !trial.Alike(x.Rat(), r) {
+			t.Fatalf("%v became %v", r, x.Rat())
+		}
+	}
+}

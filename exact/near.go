@@ -34,3 +34,30 @@ func log(num, den *big.Int) int {
 	}
 	return n
 }
+
+// Reach is a power of two that x's magnitude lies below; a fourth of it does not, if x is not nought.
+func (x Number) Reach() int {
+	return x.num.BitLen() - x.den.BitLen() + 1
+}
+
+// Whole is the greatest whole number that is at most x * 2^n.
+func (x Number) Whole(n int) *big.Int {
+	if isPower(x.den) {
+		return shift(x.num, n+1-x.den.BitLen())
+	}
+	num, den := x.num, x.den
+	if n < 0 {
+		den = shift(den, -n)
+	} else {
+		num = shift(num, n)
+	}
+	return new(big.Int).Div(num, den)
+}
+
+// shift is the greatest whole number that is at most x * 2^n.
+func shift(x *big.Int, n int) *big.Int {
+	if n < 0 {
+		return new(big.Int).Rsh(x, uint(-n))
+	}
+	return new(big.Int).Lsh(x, uint(n))
+}

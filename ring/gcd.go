@@ -7,27 +7,27 @@ import (
 
 // Gcd is the polynomial of the greatest degree that divides both, monic; of two noughts nought.
 func Gcd(p, q Poly) Poly {
-	g, _, _ := split(p, q)
+	g, _, _ := Split(p, q)
 	return g
 }
 
 // Square are the monic polynomials of the roots that p, which is not nought, has once, twice and so on, the last of them not 1. (This is Yun's way.)
 func Square(p Poly) []Poly {
 	var list []Poly
-	_, left, slope := split(p, Derive(p))
+	_, left, slope := Split(p, Derive(p))
 	for len(left) > 1 {
 		var once Poly
-		once, left, slope = split(left, Sub(slope, Derive(left)))
+		once, left, slope = Split(left, Sub(slope, Derive(left)))
 		list = append(list, once)
 	}
 	return list
 }
 
-// split is the greatest common divisor g of p and q, monic, with p over g and q over g.
-func split(p, q Poly) (g, a, b Poly) {
+// Split is the greatest common divisor g of p and q, monic, with p over g and q over g.
+func Split(p, q Poly) (g, a, b Poly) {
 	switch {
 	case len(p) < len(q):
-		g, b, a = split(q, p)
+		g, b, a = Split(q, p)
 		return g, a, b
 	case len(p) == 0:
 		return nil, nil, nil
@@ -39,7 +39,7 @@ func split(p, q Poly) (g, a, b Poly) {
 	return search(p, q)
 }
 
-// search is split of polynomials that have roots, q's degree not above p's. Euclid's steps make the numbers longer and longer; in a field of a prime they stay short, and the divisor there has at least the true one's degree. So it is put together from such fields, and is the true one as soon as it divides both.
+// search is Split of polynomials that have roots, q's degree not above p's. Euclid's steps make the numbers longer and longer; in a field of a prime they stay short, and the divisor there has at least the true one's degree. So it is put together from such fields, and is the true one as soon as it divides both.
 func search(p, q Poly) (g, a, b Poly) {
 	var found guess
 	for f := modular.First(); ; f = f.Next() {

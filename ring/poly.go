@@ -95,6 +95,15 @@ func Derive(p Poly) Poly {
 	return list
 }
 
+// Conj is the conjugates of the coefficients.
+func Conj(p Poly) Poly {
+	list := make(Poly, len(p))
+	for i, c := range p {
+		list[i] = c.Conj()
+	}
+	return list
+}
+
 // Star is the conjugates of the coefficients in the other order, p taken as of degree n, which is not below its own.
 func Star(p Poly, n int) Poly {
 	list := make(Poly, n+1)

@@ -101,3 +101,44 @@ func TestBeyondTheLimits(t *testing.T) {
 		}
 	}
 }
+
+func TestWholeAndConj(t *testing.T) {
+	mix := trial.Mixer(22)
+	for range 300 {
+		p := mix.Poly(6, 2)
+		q, times := ring.Whole(ring.Read(p))
+		least := big.NewInt(1)
+		for i, c := range p {
+			for _, den := range []*big.Int{trial.Natural(c.Re.Den), trial.Natural(c.Im.Den)} {
+				shared := new(big.Int).GCD(nil, nil, least, den)
+				least.Mul(least, den.Quo(den, shared))
+			}
+			if want := exact.ReadComplex(c).Mul(times.Complex()).Gauss(); !trial.AlikeGauss(q[i].Gauss(), want) {
+				t.Fatalf("Whole(%v) = %v times %v", p, q.Form(), times.Rat())
+			}
+		}
+		if num, den := times.Parts(); num.Cmp(least) != 0 || den.Cmp(big.NewInt(1)) != 0 || len(q) != len(p) {
+			t.Fatalf("Whole(%v): times %v, want %v", p, times.Rat(), least)
+		}
+		for i, c := range ring.Conj(ring.Read(p)) {
+			if want := trial.ValueGauss(p[i]).Conj().Gauss(); !trial.AlikeGauss(c.Gauss(), want) {
+				t.Fatalf("Conj(%v) has %v at %d", p, c.Gauss(), i)
+			}
+		}
+	}
+}
+
+func TestSplit(t *testing.T) {
+	mix := trial.Mixer(23)
+	for range 300 {
+		d := mix.Poly(3, 1)
+		p, q := trial.Multiplied(mix.Poly(4, 1), d), trial.Multiplied(mix.Poly(4, 1), d)
+		g, a, b := ring.Split(ring.Read(p), ring.Read(q))
+		if !trial.AlikePoly(ring.Mul(g, a).Form(), p) || !trial.AlikePoly(ring.Mul(g, b).Form(), q) {
+			t.Fatalf("Split(%v, %v) = %v, %v, %v", p, q, g.Form(), a.Form(), b.Form())
+		}
+		if want := trial.ValuePoly(p).Gcd(trial.ValuePoly(q)).Poly(); !trial.AlikePoly(g.Form(), want) {
+			t.Fatalf("Split(%v, %v): common is %v, want %v", p, q, g.Form(), want)
+		}
+	}
+}

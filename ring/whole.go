@@ -80,6 +80,14 @@ func (s scaled) poly() Poly {
 	return trim(list)
 }
 
+// Whole is p times the least number that makes its coefficients whole, and that number.
+func Whole(p Poly) (Poly, exact.Number) {
+	s := scale(p...)
+	den := exact.Over(s.den, big.NewInt(1))
+	s.den = big.NewInt(1)
+	return s.poly(), den
+}
+
 // Mul is p * q.
 func Mul(p, q Poly) Poly {
 	if len(p) == 0 || len(q) == 0 {
