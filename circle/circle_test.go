@@ -17,11 +17,6 @@ var (
 	nan      = math.NaN()
 )
 
-// both is the complex128 nearest to a, by another road; an infinity stands for a part that has none.
-func both(a trial.Complex) complex128 {
-	return complex(trial.Rounded(a.Re, 1), trial.Rounded(a.Im, 1))
-}
-
 // at is what Point must answer, by the words of P7.1.
 func at(t api.Rat) trial.Complex {
 	x := trial.Value(t)
@@ -79,7 +74,7 @@ func TestPointAndNear(t *testing.T) {
 		if e != api.OK {
 			t.Errorf("P7.1: Near(%v): %d", r, e)
 		}
-		trial.Is(t, z, both(want), "P7.1: Near(%v)", r)
+		trial.Is(t, z, want.Near(), "P7.1: Near(%v)", r)
 	}
 }
 
@@ -144,11 +139,6 @@ func TestPointMemory(t *testing.T) {
 	}
 }
 
-// exactly is the number that z is.
-func exactly(z complex128) trial.Complex {
-	return trial.Complex{Re: trial.True(real(z)), Im: trial.True(imag(z))}
-}
-
 // around is x and its neighbours.
 func around(x float64) []float64 {
 	return []float64{math.Nextafter(x, -infinity), x, math.Nextafter(x, infinity)}
@@ -180,7 +170,7 @@ func TestOnNextToTheCircle(t *testing.T) {
 		}
 		for _, y := range around(math.Sqrt((1 - x) * (1 + x))) {
 			for _, z := range []complex128{complex(x, y), complex(-y, x)} {
-				want := exactly(z).Norm().Cmp(one)
+				want := trial.Exactly(z).Norm().Cmp(one)
 				if where, e := circle.On(z); where != want || e != api.OK {
 					t.Errorf("P7.4: On(%x) = %d, %d, want %d", z, where, e, want)
 				}
@@ -238,12 +228,12 @@ func TestOnAndMirror(t *testing.T) {
 			trial.Is(t, m, 0, "P7.5: Mirror(%x)", z)
 			continue
 		}
-		if want := exactly(z).Norm().Cmp(one.Re); where != want || e != api.OK {
+		if want := trial.Exactly(z).Norm().Cmp(one.Re); where != want || e != api.OK {
 			t.Errorf("P7.4: On(%x) = %d, %d, want %d", z, where, e, want)
 		}
 		want, fault := complex128(0), api.ErrZero
 		if z != 0 {
-			want, fault = both(one.Quo(exactly(z).Conj())), api.OK
+			want, fault = one.Quo(trial.Exactly(z).Conj()).Near(), api.OK
 		}
 		if math.IsInf(real(want), 0) || math.IsInf(imag(want), 0) {
 			want, fault = 0, api.ErrOver

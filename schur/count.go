@@ -6,6 +6,7 @@ import (
 	"quaver/exact"
 	"quaver/ring"
 	"quaver/squares"
+	"quaver/whole"
 )
 
 // count is how many roots of p, which is not nought, lie inside the circle, on it and outside.
@@ -29,12 +30,12 @@ func count(p ring.Poly) (inside, on, outside int) {
 // apart is how many roots lie inside and how many outside, where no root is on the circle or another one's mirror image.
 func apart(p ring.Poly) (inside, outside int) {
 	return squares.Count(len(p)-1, func(bits int) squares.Matrix {
-		return matrix(squares.Round(p, bits))
+		return matrix(whole.Round(p, bits))
 	})
 }
 
 // matrix is the matrix of Schur and Cohn of a polynomial's coefficients. It has a positive square for each root inside and a negative one for each root outside.
-func matrix(list []squares.Number) squares.Matrix {
+func matrix(list []whole.Number) squares.Matrix {
 	last := len(list) - 1
 	m := make(squares.Matrix, last)
 	for j := range m {

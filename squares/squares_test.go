@@ -8,6 +8,7 @@ import (
 	"quaver/exact"
 	"quaver/squares"
 	"quaver/trial"
+	"quaver/whole"
 )
 
 // read is these numbers as the program's own.
@@ -20,12 +21,12 @@ func read(list []trial.Complex) []exact.Complex {
 }
 
 // sum is the matrix with the entries (i, j) of all signs[k] times x[i*n+k] times the conjugate of x[j*n+k] together: it has the squares that the signs tell, if the rows of x are not dependent.
-func sum(signs []int, x []squares.Number) squares.Matrix {
+func sum(signs []int, x []whole.Number) squares.Matrix {
 	n := len(signs)
 	m := make(squares.Matrix, n)
 	for i := range m {
 		for j := range i + 1 {
-			c := squares.Number{Re: new(big.Int), Im: new(big.Int)}
+			c := whole.Number{Re: new(big.Int), Im: new(big.Int)}
 			for k, sign := range signs {
 				product := x[i*n+k].Mul(x[j*n+k].Conj())
 				if sign > 0 {
@@ -45,7 +46,7 @@ func count(signs []int, x []trial.Complex) (positive, negative, bits int) {
 	list := read(x)
 	positive, negative = squares.Count(len(signs), func(n int) squares.Matrix {
 		bits = n
-		return sum(signs, squares.Round(list, n))
+		return sum(signs, whole.Round(list, n))
 	})
 	return positive, negative, bits
 }
@@ -108,7 +109,7 @@ func TestSquaresThatAreNearNought(t *testing.T) {
 }
 
 // beside is the matrix with noughts on its diagonal and these entries below it, row by row.
-func beside(rows int, list []squares.Number, one squares.Number) squares.Matrix {
+func beside(rows int, list []whole.Number, one whole.Number) squares.Matrix {
 	m := make(squares.Matrix, rows)
 	next := 0
 	for i := range m {
@@ -116,7 +117,7 @@ func beside(rows int, list []squares.Number, one squares.Number) squares.Matrix 
 			m[i] = append(m[i], list[next].Mul(one))
 			next++
 		}
-		m[i] = append(m[i], squares.Number{Re: new(big.Int), Im: new(big.Int)})
+		m[i] = append(m[i], whole.Number{Re: new(big.Int), Im: new(big.Int)})
 	}
 	return m
 }
@@ -146,91 +147,11 @@ func TestNoughtsOnTheDiagonal(t *testing.T) {
 	} {
 		list := read(c.list)
 		a, b := squares.Count(c.rows, func(bits int) squares.Matrix {
-			return beside(c.rows, squares.Round(list, bits), squares.Round(one, bits)[0])
+			return beside(c.rows, whole.Round(list, bits), whole.Round(one, bits)[0])
 		})
 		if a != c.up || b != c.down {
 			t.Errorf("%d rows with %v beside noughts: %d, %d, want %d, %d", c.rows, c.list, a, b, c.up, c.down)
 		}
-	}
-}
-
-func TestRound(t *testing.T) {
-	mix := trial.Mixer(3)
-	for range 500 {
-		list := make([]trial.Complex, 1+mix.Below(4))
-		some := false
-		for i := range list {
-			list[i] = trial.ValueGauss(mix.Gauss(1 + mix.Below(4)))
-			some = some || !list[i].Nought()
-		}
-		if !some {
-			list[0] = trial.Fraction(-1, 0, 3)
-		}
-		bits := 8 + mix.Below(300)
-		checkRounded(t, list, squares.Round(read(list), bits), bits)
-	}
-	for _, z := range squares.Round(read([]trial.Complex{trial.Fraction(0, 0, 1), trial.Fraction(0, 0, 1)}), 100) {
-		if z.Re.Sign() != 0 || z.Im.Sign() != 0 {
-			t.Errorf("noughts rounded are %v", z)
-		}
-	}
-	if list := squares.Round(nil, 100); len(list) != 0 {
-		t.Errorf("no numbers rounded are %v", list)
-	}
-}
-
-// checkRounded: is there one power of two for all parts, which leaves none off by 1 and the greatest one of nearly so many bits?
-func checkRounded(t *testing.T, list []trial.Complex, rounded []squares.Number, bits int) {
-	t.Helper()
-	var values []*big.Rat
-	var whole []*big.Int
-	for i, z := range list {
-		values = append(values, z.Re, z.Im)
-		whole = append(whole, rounded[i].Re, rounded[i].Im)
-	}
-	longest, place := 0, 0
-	for i, n := range whole {
-		if n.CmpAbs(new(big.Int).Lsh(big.NewInt(1), uint(bits))) > 0 {
-			t.Fatalf("%v rounded to %d bits has %d", list, bits, n.BitLen())
-		}
-		if n.BitLen() > longest {
-			longest, place = n.BitLen(), i
-		}
-	}
-	if longest < bits-2 {
-		t.Fatalf("%v rounded to %d bits has %d", list, bits, longest)
-	}
-	// The power of two, told by the longest part.
-	ratio := new(big.Rat).Quo(new(big.Rat).SetInt(whole[place]), values[place])
-	power := ratio.Num().BitLen() - ratio.Denom().BitLen()
-	for p := power - 1; p <= power+1; p++ {
-		fits := true
-		for i, x := range values {
-			off := new(big.Rat).Mul(x, trial.Up(p))
-			off.Sub(off, new(big.Rat).SetInt(whole[i]))
-			fits = fits && off.Abs(off).Cmp(big.NewRat(1, 1)) < 0
-		}
-		if fits {
-			return
-		}
-	}
-	t.Fatalf("%v rounded to %d bits: %v", list, bits, rounded)
-}
-
-func TestNumbersStay(t *testing.T) {
-	a := squares.Number{Re: big.NewInt(3), Im: big.NewInt(-5)}
-	b := squares.Number{Re: big.NewInt(-7), Im: big.NewInt(2)}
-	for _, c := range []struct {
-		name   string
-		got    squares.Number
-		re, im int64
-	}{{"Add", a.Add(b), -4, -3}, {"Sub", a.Sub(b), 10, -7}, {"Mul", a.Mul(b), -11, 41}, {"Conj", a.Conj(), 3, 5}} {
-		if c.got.Re.Int64() != c.re || c.got.Im.Int64() != c.im {
-			t.Errorf("%s = %v", c.name, c.got)
-		}
-	}
-	if a.Re.Int64() != 3 || a.Im.Int64() != -5 || b.Re.Int64() != -7 || b.Im.Int64() != 2 {
-		t.Errorf("the numbers became %v, %v", a, b)
 	}
 }
 

@@ -44,7 +44,7 @@ func short(factor exact.Number, list []*big.Int) link {
 			shared, places = exact.Divisor(shared, c), i+1
 		}
 	}
-	made := link{exact.Mul(factor, whole(shared)), make([]*big.Int, places)}
+	made := link{exact.Mul(factor, rational(shared)), make([]*big.Int, places)}
 	for i, c := range list[:places] {
 		made.list[i] = new(big.Int).Quo(c, shared)
 	}
@@ -52,7 +52,7 @@ func short(factor exact.Number, list []*big.Int) link {
 }
 
 // whole is a whole number as a rational one.
-func whole(n *big.Int) exact.Number {
+func rational(n *big.Int) exact.Number {
 	return exact.Over(n, big.NewInt(1))
 }
 
@@ -69,7 +69,7 @@ func follow(a, b link) link {
 			continue
 		}
 		// Times the divisor's last coefficient, so that all stays whole.
-		factor = exact.Quo(factor, whole(last))
+		factor = exact.Quo(factor, rational(last))
 		for i, c := range rest {
 			rest[i] = new(big.Int).Mul(c, last)
 			if i >= place {
@@ -84,7 +84,7 @@ func follow(a, b link) link {
 func (l link) poly() ring.Poly {
 	list := make(ring.Poly, len(l.list))
 	for i, c := range l.list {
-		list[i] = exact.Mul(l.factor, whole(c)).Complex()
+		list[i] = exact.Mul(l.factor, rational(c)).Complex()
 	}
 	return list
 }

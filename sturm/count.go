@@ -6,6 +6,7 @@ import (
 	"quaver/exact"
 	"quaver/ring"
 	"quaver/squares"
+	"quaver/whole"
 )
 
 // once is the polynomial of p's unlike roots, each of them once.
@@ -22,7 +23,7 @@ func onLine(p ring.Poly) int {
 // beyond is how many real roots above x such a polynomial has.
 func beyond(p ring.Poly, x exact.Number) int {
 	num, den := x.Parts()
-	cut := ring.Poly{exact.Neg(whole(num)).Complex(), whole(den).Complex()} // of the root x alone
+	cut := ring.Poly{exact.Neg(rational(num)).Complex(), rational(den).Complex()} // of the root x alone
 	_, other, _ := ring.Split(p, cut)
 	slope := ring.Derive(other)
 	// All roots but x, and those above x less those below it.
@@ -40,7 +41,7 @@ func leaps(p, q ring.Poly) (up, down int) {
 	places := max(len(p), len(q))
 	p, q = pad(p, places), pad(q, places)
 	return squares.Count(places-1, func(bits int) squares.Matrix {
-		return matrix(squares.Round(p, bits), squares.Round(q, bits))
+		return matrix(whole.Round(p, bits), whole.Round(q, bits))
 	})
 }
 
@@ -54,7 +55,7 @@ func pad(p ring.Poly, places int) ring.Poly {
 }
 
 // matrix is Bezout's matrix of two real polynomials' coefficients: those of the polynomial (p(x) q(y) - q(x) p(y)) / (x - y).
-func matrix(p, q []squares.Number) squares.Matrix {
+func matrix(p, q []whole.Number) squares.Matrix {
 	rows := len(p) - 1
 	m := make(squares.Matrix, rows)
 	for i := rows - 1; i >= 0; i-- {

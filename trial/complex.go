@@ -16,6 +16,16 @@ func ValueGauss(g api.Gauss) Complex {
 	return Complex{Value(g.Re), Value(g.Im)}
 }
 
+// Exactly is the number that z, which is finite, is.
+func Exactly(z complex128) Complex {
+	return Complex{True(real(z)), True(imag(z))}
+}
+
+// Near is the complex128 nearest to a; an infinity stands for a part that has none.
+func (a Complex) Near() complex128 {
+	return complex(Rounded(a.Re, 1), Rounded(a.Im, 1))
+}
+
 // Gauss is a as the Gauss in form that it must be.
 func (a Complex) Gauss() api.Gauss {
 	return api.Gauss{Re: Told(a.Re), Im: Told(a.Im)}

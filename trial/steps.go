@@ -106,11 +106,9 @@ func NearestDot(a, b []complex128) (complex128, api.Errno) {
 		if !finite(a[i]) || !finite(b[i]) {
 			return 0, api.ErrNaN
 		}
-		x := Complex{Re: True(real(a[i])), Im: True(imag(a[i]))}
-		y := Complex{Re: True(real(b[i])), Im: True(imag(b[i]))}
-		whole = whole.Add(x.Mul(y))
+		whole = whole.Add(Exactly(a[i]).Mul(Exactly(b[i])))
 	}
-	z := complex(Rounded(whole.Re, 1), Rounded(whole.Im, 1))
+	z := whole.Near()
 	if !finite(z) {
 		return 0, api.ErrOver
 	}

@@ -1,4 +1,5 @@
-package squares
+// Package whole reckons with complex numbers of whole parts, exact ones and rounded ones.
+package whole
 
 import (
 	"math/big"
@@ -62,29 +63,48 @@ func (a Number) Mul(b Number) Number {
 	return Number{re, im}
 }
 
-// down is a over 2^n, each part rounded down.
-func (a Number) down(n uint) Number {
+// Down is a over 2^n, each part rounded down.
+func (a Number) Down(n uint) Number {
 	return Number{new(big.Int).Rsh(a.Re, n), new(big.Int).Rsh(a.Im, n)}
 }
 
-// over is a * 2^n over x, each part rounded towards nought.
-func (a Number) over(x *big.Int, n uint) Number {
+// Over is a * 2^n over x, each part rounded towards nought.
+func (a Number) Over(x *big.Int, n uint) Number {
 	re, im := new(big.Int).Lsh(a.Re, n), new(big.Int).Lsh(a.Im, n)
 	return Number{re.Quo(re, x), im.Quo(im, x)}
 }
 
-// greater is the magnitude of the part that has the greater one.
-func (a Number) greater() *big.Int {
+// Greater is the magnitude of the part that has the greater one.
+func (a Number) Greater() *big.Int {
 	if a.Re.CmpAbs(a.Im) >= 0 {
 		return new(big.Int).Abs(a.Re)
 	}
 	return new(big.Int).Abs(a.Im)
 }
 
-// turn is the one of 1, -1, i, -i that makes a's greater part real and puts it above nought, multiplied with it.
-func (a Number) turn() Number {
-	if a.Re.CmpAbs(a.Im) >= 0 {
-		return Number{big.NewInt(int64(a.Re.Sign())), new(big.Int)}
+// Longest is how many bits the longest of all parts has.
+func Longest(list []Number) int {
+	most := 0
+	for _, a := range list {
+		most = max(most, a.Re.BitLen(), a.Im.BitLen())
 	}
-	return Number{new(big.Int), big.NewInt(int64(-a.Im.Sign()))}
+	return most
+}
+
+// Nought: is a 0?
+func (a Number) Nought() bool {
+	return a.Re.Sign() == 0 && a.Im.Sign() == 0
+}
+
+// Times is a * n.
+func (a Number) Times(n *big.Int) Number {
+	return Number{new(big.Int).Mul(a.Re, n), new(big.Int).Mul(a.Im, n)}
+}
+
+// QuoRem is a over n, each part rounded towards nought, and what that leaves.
+func (a Number) QuoRem(n *big.Int) (quotient, rest Number) {
+	quotient, rest = Number{new(big.Int), new(big.Int)}, Number{new(big.Int), new(big.Int)}
+	quotient.Re.QuoRem(a.Re, n, rest.Re)
+	quotient.Im.QuoRem(a.Im, n, rest.Im)
+	return quotient, rest
 }
