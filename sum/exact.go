@@ -4,14 +4,14 @@ import (
 	"math/big"
 
 	"quaver/api"
-	"quaver/cplx"
 	"quaver/exact"
+	"quaver/numbers"
 	"quaver/part"
 )
 
 // Exact: the complex128 nearest to the true sum, part by part.
 func Exact(list []complex128) (complex128, api.Errno) {
-	if !finite(list) {
+	if !numbers.Finite(list...) {
 		return 0, api.ErrNaN
 	}
 	return nearest(len(list), func(i int) (complex128, complex128) { return list[i], 1 })
@@ -22,19 +22,10 @@ func ExactDot(a, b []complex128) (complex128, api.Errno) {
 	switch {
 	case len(a) != len(b):
 		return 0, api.ErrArg
-	case !finite(a) || !finite(b):
+	case !numbers.Finite(a...) || !numbers.Finite(b...):
 		return 0, api.ErrNaN
 	}
 	return nearest(len(a), func(i int) (complex128, complex128) { return a[i], b[i] })
-}
-
-func finite(list []complex128) bool {
-	for _, a := range list {
-		if !cplx.Finite(a) {
-			return false
-		}
-	}
-	return true
 }
 
 // nearest is the complex128 nearest to the true sum of n true products; the rule tells which two numbers are multiplied at a place.

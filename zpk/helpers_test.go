@@ -25,31 +25,6 @@ func list(numbers ...complex128) []complex128 {
 	return numbers
 }
 
-// signs is x and y with all signs; noughts have both.
-func signs(x, y float64) []complex128 {
-	return list(complex(x, y), complex(-x, y), complex(x, -y), complex(-x, -y))
-}
-
-// noughts are those of all signs.
-func noughts() []complex128 {
-	return list(complex(0, 0), complex(minus, 0), complex(0, minus), complex(minus, minus))
-}
-
-// endless are numbers with one part, or both, that is a NaN or an infinity.
-func endless() []complex128 {
-	var all []complex128
-	for _, x := range []float64{nan, infinity, -infinity} {
-		all = append(all, complex(x, 0), complex(1, x), complex(x, x))
-	}
-	return append(all, complex(nan, infinity), complex(-infinity, nan))
-}
-
-// few are numbers of which many are the same, or conjugates, or differ in signs of noughts alone.
-func few(mix *trial.Mixer, n int) []complex128 {
-	parts := []float64{0, minus, 1, -1, 2, 0.5}
-	return mix.Numbers(n, func() float64 { return parts[mix.Below(len(parts))] })
-}
-
 // exactly is these numbers as the exact ones that they are.
 func exactly(numbers []complex128) []trial.Complex {
 	var all []trial.Complex
@@ -57,17 +32,6 @@ func exactly(numbers []complex128) []trial.Complex {
 		all = append(all, trial.Exactly(z))
 	}
 	return all
-}
-
-// finite are so many numbers of all kinds, but for those that are not finite.
-func finite(mix *trial.Mixer, n int) []complex128 {
-	return mix.Numbers(n, func() float64 {
-		for {
-			if x := mix.Float(); trial.Finite(x) {
-				return x
-			}
-		}
-	})
 }
 
 // call is a call of one filter. It tells whether all beside the error is its zero value.

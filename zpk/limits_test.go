@@ -45,7 +45,7 @@ func TestCounts(t *testing.T) {
 }
 
 func TestNumbersThatAreNotFinite(t *testing.T) {
-	for _, bad := range endless() {
+	for _, bad := range trial.Endless() {
 		check(t, api.Zpk{Gain: bad}, api.ErrNaN)
 		for _, place := range []int{0, 1, api.MaxRoots - 1} {
 			numbers := slices.Repeat(list(0.5), api.MaxRoots)
@@ -54,7 +54,7 @@ func TestNumbersThatAreNotFinite(t *testing.T) {
 			check(t, api.Zpk{Poles: numbers, Gain: 1}, api.ErrNaN)
 			check(t, api.Zpk{Zeros: numbers, Poles: numbers, Gain: bad}, api.ErrNaN)
 			// A gain of nought goes ahead of it, where it is an error.
-			for _, nought := range noughts() {
+			for _, nought := range trial.Noughts() {
 				f := api.Zpk{Zeros: numbers, Gain: nought}
 				if g, e := zpk.Over(f); e != api.ErrZero || !bare(g) {
 					t.Errorf("Errors: Over of a NaN and the gain 0: %v, %d, want ErrZero", g, e)
@@ -72,7 +72,7 @@ func TestNumbersThatAreNotFinite(t *testing.T) {
 }
 
 func TestFiniteNumbersAreFilters(t *testing.T) {
-	for _, z := range slices.Concat(noughts(), signs(trial.Greatest, trial.Least), signs(1, trial.Greatest), signs(trial.LeastNormal, 3)) {
+	for _, z := range slices.Concat(trial.Noughts(), trial.Signs(trial.Greatest, trial.Least), trial.Signs(1, trial.Greatest), trial.Signs(trial.LeastNormal, 3)) {
 		for _, f := range []api.Zpk{{}, {Gain: z}, {Zeros: list(z)}, {Poles: list(z)}, {Zeros: slices.Repeat(list(z), 24), Poles: slices.Repeat(list(z), 24), Gain: z}} {
 			if e := zpk.Check(f); e != api.OK {
 				t.Errorf("P13.1: Check(%x) = %d", f, e)

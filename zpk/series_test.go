@@ -67,7 +67,7 @@ func TestGainsOfOver(t *testing.T) {
 		}
 		trial.Is(t, f.Gain, c.want, "P13.5: Over of the gain %x", c.gain)
 	}
-	for _, gain := range noughts() {
+	for _, gain := range trial.Noughts() {
 		if f, e := zpk.Over(api.Zpk{Zeros: list(1), Gain: gain}); e != api.ErrZero || !bare(f) {
 			t.Errorf("P13.5: Over of the gain %v: %v, %d, want ErrZero", gain, f, e)
 		}
@@ -78,8 +78,8 @@ func TestSeriesAndOver(t *testing.T) {
 	mix := trial.Mixer(4)
 	beyond := 0
 	for range 2000 {
-		f := api.Zpk{Zeros: finite(&mix, mix.Below(13)), Poles: finite(&mix, mix.Below(13)), Gain: finite(&mix, 1)[0]}
-		g := api.Zpk{Zeros: finite(&mix, mix.Below(13)), Poles: finite(&mix, mix.Below(13)), Gain: finite(&mix, 1)[0]}
+		f := api.Zpk{Zeros: mix.FiniteNumbers(mix.Below(13)), Poles: mix.FiniteNumbers(mix.Below(13)), Gain: mix.FiniteNumbers(1)[0]}
+		g := api.Zpk{Zeros: mix.FiniteNumbers(mix.Below(13)), Poles: mix.FiniteNumbers(mix.Below(13)), Gain: mix.FiniteNumbers(1)[0]}
 		want := api.Zpk{}
 		gain, fault := rounded(trial.Exactly(f.Gain).Mul(trial.Exactly(g.Gain)))
 		if fault == api.OK {

@@ -21,7 +21,7 @@ func TestTameExamples(t *testing.T) {
 		{list(1), list(1), false}, {nil, nil, true}, {list(0.5, complex(0, -0.5)), list(0.5, complex(0, -0.5)), true},
 		// On the circle, with noughts of both signs: all stays.
 		{list(1, complex(-1, minus), complex(minus, 1), complex(0, -1)), list(1, complex(-1, minus), complex(minus, 1), complex(0, -1)), false},
-		{noughts(), noughts(), true}, {list(complex(minus, 0.5), complex(0.25, minus)), list(complex(minus, 0.5), complex(0.25, minus)), true},
+		{trial.Noughts(), trial.Noughts(), true}, {list(complex(minus, 0.5), complex(0.25, minus)), list(complex(minus, 0.5), complex(0.25, minus)), true},
 		// Outside a nought of either sign becomes +0, as the true one is 0.
 		{list(complex(2, minus), complex(minus, -4), complex(minus, 2)), list(0.5, complex(0, -0.25), complex(0, 0.5)), false},
 		{list(5, 4, 5, 1, 2, 2), list(0.2, 0.25, 0.2, 1, 0.5, 0.5), false},
@@ -52,7 +52,7 @@ func TestTameAndStable(t *testing.T) {
 	}
 	stables := 0
 	for round := range 600 {
-		f := api.Zpk{Zeros: finite(&mix, mix.Below(25)), Poles: finite(&mix, mix.Below(25)), Gain: finite(&mix, 1)[0]}
+		f := api.Zpk{Zeros: mix.FiniteNumbers(mix.Below(25)), Poles: mix.FiniteNumbers(mix.Below(25)), Gain: mix.FiniteNumbers(1)[0]}
 		switch round % 3 {
 		case 1:
 			f.Poles = mix.Numbers(mix.Below(9), beside)

@@ -22,8 +22,8 @@ func TestCanonExamples(t *testing.T) {
 		{api.Zpk{Zeros: list(3, 3, 3), Poles: list(3, 3)}, api.Zpk{Zeros: list(3)}},
 		{api.Zpk{Zeros: list(3, 3), Poles: list(3, 3, 3, 3)}, api.Zpk{Poles: list(3, 3)}},
 		{api.Zpk{Zeros: list(3, 4), Poles: list(4, 3), Gain: complex(minus, minus)}, api.Zpk{Gain: complex(minus, minus)}},
-		{api.Zpk{Zeros: noughts(), Poles: list(complex(0, minus))}, api.Zpk{Zeros: list(complex(minus, minus), complex(minus, 0), complex(0, minus))}},
-		{api.Zpk{Zeros: noughts(), Poles: list(0, 0, 0)}, api.Zpk{Zeros: list(complex(minus, minus))}},
+		{api.Zpk{Zeros: trial.Noughts(), Poles: list(complex(0, minus))}, api.Zpk{Zeros: list(complex(minus, minus), complex(minus, 0), complex(0, minus))}},
+		{api.Zpk{Zeros: trial.Noughts(), Poles: list(0, 0, 0)}, api.Zpk{Zeros: list(complex(minus, minus))}},
 		// A number is not its conjugate, and not its opposite.
 		{api.Zpk{Zeros: list(complex(1, 2)), Poles: list(complex(1, -2), complex(-1, 2))}, api.Zpk{Zeros: list(complex(1, 2)), Poles: list(complex(-1, 2), complex(1, -2))}},
 		{api.Zpk{Poles: list(complex(0, minus), complex(minus, 0), 0, complex(minus, minus), complex(1, minus), 1), Gain: complex(0, minus)}, api.Zpk{Poles: list(complex(minus, minus), complex(minus, 0), complex(0, minus), 0, complex(1, minus), 1), Gain: complex(0, minus)}},
@@ -78,7 +78,7 @@ func sorted(got, want []complex128) bool {
 func TestCanon(t *testing.T) {
 	mix := trial.Mixer(1)
 	for range 1000 {
-		f := api.Zpk{Zeros: few(&mix, mix.Below(25)), Poles: few(&mix, mix.Below(25)), Gain: finite(&mix, 1)[0]}
+		f := api.Zpk{Zeros: mix.Few(mix.Below(25)), Poles: mix.Few(mix.Below(25)), Gain: mix.FiniteNumbers(1)[0]}
 		zeros, poles := left(f.Zeros, f.Poles)
 		g, e := zpk.Canon(f)
 		if e != api.OK || !sorted(g.Zeros, zeros) || !sorted(g.Poles, poles) || !trial.AlikeNumber(g.Gain, f.Gain) {
@@ -103,7 +103,7 @@ func TestRealExamples(t *testing.T) {
 		{api.Zpk{}, true}, {api.Zpk{Gain: complex(minus, minus)}, true}, {api.Zpk{Gain: i}, false}, {api.Zpk{Gain: complex(1, trial.Least)}, false}, {api.Zpk{Gain: complex(1, -trial.Least)}, false},
 		{api.Zpk{Poles: list(i), Gain: 1}, false}, {api.Zpk{Zeros: list(i), Poles: list(-i), Gain: 1}, false}, {api.Zpk{Zeros: list(i, -i), Poles: list(-i, i), Gain: 1}, true}, {api.Zpk{Zeros: list(i, -i), Poles: list(3, -i), Gain: 1}, false},
 		{api.Zpk{Poles: list(complex(minus, 2), complex(0, -2))}, true}, {api.Zpk{Poles: list(complex(minus, 2), complex(0, 2), complex(0, -2))}, false}, {api.Zpk{Poles: list(complex(minus, 2), complex(0, 2), complex(0, -2), complex(minus, -2))}, true},
-		{api.Zpk{Zeros: noughts(), Poles: noughts()[:3]}, true}, {api.Zpk{Zeros: list(complex(5, minus), 5, 7)}, true}, {api.Zpk{Zeros: list(complex(1, trial.Least), 1)}, false},
+		{api.Zpk{Zeros: trial.Noughts(), Poles: trial.Noughts()[:3]}, true}, {api.Zpk{Zeros: list(complex(5, minus), 5, 7)}, true}, {api.Zpk{Zeros: list(complex(1, trial.Least), 1)}, false},
 		{api.Zpk{Zeros: list(complex(1, 1), complex(-1, -1))}, false}, {api.Zpk{Zeros: list(complex(1, 1), complex(-1, 1))}, false}, {api.Zpk{Zeros: list(complex(1, 1), complex(1, -1), complex(1, 1), complex(1, -1)), Gain: -1}, true},
 		{api.Zpk{Zeros: list(complex(1, 1), complex(1, -1), complex(2, 1), complex(2, 1))}, false}, {api.Zpk{Zeros: slices.Repeat(list(complex(3, -4), complex(3, 4)), 12), Poles: slices.Repeat(list(complex(3, 4), complex(3, -4)), 12)}, true},
 	} {
@@ -128,7 +128,7 @@ func TestReal(t *testing.T) {
 	mix := trial.Mixer(2)
 	found := 0
 	for range 3000 {
-		f := api.Zpk{Zeros: few(&mix, mix.Below(6)), Poles: few(&mix, mix.Below(4)), Gain: few(&mix, 1)[0]}
+		f := api.Zpk{Zeros: mix.Few(mix.Below(6)), Poles: mix.Few(mix.Below(4)), Gain: mix.Few(1)[0]}
 		if mix.Below(2) == 0 {
 			f.Gain = complex(3, minus)
 			for _, z := range f.Zeros {
@@ -168,7 +168,7 @@ func TestPolysExamples(t *testing.T) {
 			t.Errorf("P13.4: Polys(%v) = %v, %v, %d", c.f, num, den, e)
 		}
 	}
-	for _, gain := range noughts() {
+	for _, gain := range trial.Noughts() {
 		num, den, e := zpk.Polys(api.Zpk{Zeros: list(1, complex(2, 3)), Poles: list(4), Gain: gain})
 		if e != api.OK || len(num) > 0 || !trial.AlikePoly(den, trial.Reals(-4, 1)) {
 			t.Errorf("P13.4: Polys with the gain %v: %v, %v, %d", gain, num, den, e)
@@ -183,7 +183,7 @@ func TestPolys(t *testing.T) {
 		if round%20 == 0 {
 			most = api.MaxRoots
 		}
-		f := api.Zpk{Zeros: finite(&mix, mix.Below(most+1)), Poles: finite(&mix, most), Gain: finite(&mix, 1)[0]}
+		f := api.Zpk{Zeros: mix.FiniteNumbers(mix.Below(most + 1)), Poles: mix.FiniteNumbers(most), Gain: mix.FiniteNumbers(1)[0]}
 		num := trial.Multiplied(trial.Lines(exactly(f.Zeros)...), trial.Line{trial.Exactly(f.Gain)}.Trim().Poly())
 		den := trial.Lines(exactly(f.Poles)...)
 		if p, q, e := zpk.Polys(f); e != api.OK || !trial.AlikePoly(p, num) || !trial.AlikePoly(q, den) {
