@@ -13,7 +13,7 @@ import (
 
 // sameFilter: bit by bit.
 func sameFilter(f, g api.Filter) bool {
-	return trial.AlikeNumber(f.Gain, g.Gain) && slices.EqualFunc(f.Sections, g.Sections, same)
+	return trial.AlikeNumber(f.Gain, g.Gain) && slices.EqualFunc(f.Sections, g.Sections, trial.AlikeSection)
 }
 
 func TestFilterExamples(t *testing.T) {

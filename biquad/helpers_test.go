@@ -25,25 +25,10 @@ func group(zeros, poles []complex128) api.Group {
 	return api.Group{Zeros: zeros, Poles: poles}
 }
 
-// row are a section's coefficients, in the order of its fields.
-func row(s api.Section) []complex128 {
-	return list(s.B0, s.B1, s.B2, s.A1, s.A2)
-}
-
-// section is the section of these five coefficients.
-func section(c []complex128) api.Section {
-	return api.Section{B0: c[0], B1: c[1], B2: c[2], A1: c[3], A2: c[4]}
-}
-
-// same: bit by bit.
-func same(s, r api.Section) bool {
-	return trial.AlikeNumbers(row(s), row(r))
-}
-
 // is holds a section and an error against those that are wanted.
 func is(t *testing.T, s api.Section, e api.Errno, want api.Section, fault api.Errno, name string, args ...any) {
 	t.Helper()
-	if e != fault || !same(s, want) {
+	if e != fault || !trial.AlikeSection(s, want) {
 		t.Errorf(name+": %x, %d, want %x, %d", append(args, s, e, want, fault)...)
 	}
 }
@@ -58,7 +43,7 @@ func nearest(exact ...trial.Complex) (api.Section, api.Errno) {
 		}
 		all = append(all, z)
 	}
-	return section(all), api.OK
+	return trial.Section(all), api.OK
 }
 
 // shares are the coefficients of 1/z and 1/z^2 of the product of all 1 - root/z, by the words of P15.1.

@@ -18,13 +18,13 @@ func TestTooManyRoots(t *testing.T) {
 				want = api.ErrLong
 			}
 			s, e := biquad.Of(group(make([]complex128, zeros), make([]complex128, poles)))
-			if e != want || want != api.OK && !same(s, api.Section{}) {
+			if e != want || want != api.OK && !trial.AlikeSection(s, api.Section{}) {
 				t.Errorf("Errors: Of %d zeros and %d poles: %v, %d, want %d", zeros, poles, s, e, want)
 			}
 			// Too many go ahead of a NaN, and of coefficients beyond the greatest.
 			for _, numbers := range [][2]complex128{{bad, 1}, {1, bad}, {bad, bad}, {1e300, bad}, {1e300, 1e300}} {
 				s, e := biquad.Of(group(slices.Repeat(numbers[:1], zeros), slices.Repeat(numbers[1:], poles)))
-				if want == api.ErrLong && (e != api.ErrLong || !same(s, api.Section{})) {
+				if want == api.ErrLong && (e != api.ErrLong || !trial.AlikeSection(s, api.Section{})) {
 					t.Errorf("Errors: Of %d zeros and %d poles, %v: %v, %d, want ErrLong", zeros, poles, numbers, s, e)
 				}
 			}
@@ -103,9 +103,9 @@ func TestErrorsOfFilter(t *testing.T) {
 func sections(args [][]complex128) [][]complex128 {
 	s, e := biquad.Of(group(args[0], args[1]))
 	f, fault := biquad.Filter(api.Zpk{Zeros: args[0], Poles: args[1], Gain: complex(3, minus)})
-	all := [][]complex128{row(s), list(complex(float64(e), float64(fault)), f.Gain)}
+	all := [][]complex128{trial.Row(s), list(complex(float64(e), float64(fault)), f.Gain)}
 	for _, s := range f.Sections {
-		all = append(all, row(s))
+		all = append(all, trial.Row(s))
 	}
 	return all
 }
@@ -128,7 +128,7 @@ func TestMemory(t *testing.T) {
 	want := slices.Clone(first.Sections)
 	second, _ := biquad.Filter(f)
 	clear(second.Sections[:cap(second.Sections)])
-	if third, _ := biquad.Filter(f); !slices.EqualFunc(first.Sections, want, same) || !slices.EqualFunc(third.Sections, want, same) {
+	if third, _ := biquad.Filter(f); !slices.EqualFunc(first.Sections, want, trial.AlikeSection) || !slices.EqualFunc(third.Sections, want, trial.AlikeSection) {
 		t.Errorf("Memory: two answers of Filter share memory: %v, %v", first, third)
 	}
 }
@@ -139,7 +139,7 @@ func TestMemoryOfPolys(t *testing.T) {
 		for _, g := range args[0] {
 			all = append(all, trial.ValueGauss(g).Near())
 		}
-		num, den, _ := biquad.Polys(section(all))
+		num, den, _ := biquad.Polys(trial.Section(all))
 		return []trial.Numbers{trial.Numbers(num), trial.Numbers(den)}
 	}
 	for _, p := range []api.Poly{trial.Reals(1, 1, 1, 1, 1), trial.Reals(0, 0, 0, 0, 0), trial.Reals(3, 0, 1, 0, 1), {trial.Whole(3, -4), trial.Whole(0, 1), trial.Whole(2, 2), trial.Whole(1, 1), trial.Whole(1, 1)}} {

@@ -49,13 +49,13 @@ func TestPolys(t *testing.T) {
 		}
 	}
 	for _, nought := range trial.Noughts() {
-		polys(t, section(slices.Repeat(list(nought), 5)))
+		polys(t, trial.Section(slices.Repeat(list(nought), 5)))
 		polys(t, api.Section{B0: nought, B1: 1, A1: nought, A2: 1})
 	}
 	mix := trial.Mixer(153)
 	for range 500 {
-		polys(t, section(mix.FiniteNumbers(5)))
-		polys(t, section(mix.Few(5)))
+		polys(t, trial.Section(mix.FiniteNumbers(5)))
+		polys(t, trial.Section(mix.Few(5)))
 	}
 }
 
@@ -126,9 +126,9 @@ func TestRightlyTold(t *testing.T) {
 		s := nearly(&mix)
 		switch i % 10 {
 		case 0:
-			s = section(mix.FiniteNumbers(5))
+			s = trial.Section(mix.FiniteNumbers(5))
 		case 1:
-			s = section(mix.Few(5))
+			s = trial.Section(mix.Few(5))
 		}
 		want := stable(s)
 		if told(t, s) != want {
@@ -216,7 +216,7 @@ func TestSectionsThatAreNotFinite(t *testing.T) {
 		for place := range 5 {
 			numbers := list(1, 2, 3, 0.5, 0.25)
 			numbers[place] = bad
-			s := section(numbers)
+			s := trial.Section(numbers)
 			if num, den, e := biquad.Polys(s); e != api.ErrNaN || len(num) != 0 || len(den) != 0 {
 				t.Errorf("Errors: Polys(%v) = %v, %v, %d, want ErrNaN", s, num, den, e)
 			}

@@ -60,8 +60,11 @@ func isOne(x *big.Int) bool {
 
 // over is x / y, where y divides x.
 func over(x, y *big.Int) *big.Int {
-	if isOne(y) {
+	switch {
+	case isOne(y):
 		return x
+	case isPower(y):
+		return new(big.Int).Rsh(x, y.TrailingZeroBits())
 	}
 	return new(big.Int).Quo(x, y)
 }

@@ -1,4 +1,4 @@
-// Package numbers asks of lists of complex128 what several layers ask alike.
+// Package numbers asks of complex128 and of lists of them what several layers ask alike.
 package numbers
 
 import (
@@ -15,6 +15,11 @@ func Finite(list ...complex128) bool {
 		}
 	}
 	return true
+}
+
+// Coefficients are a section's, those of the numerator first.
+func Coefficients(s api.Section) []complex128 {
+	return []complex128{s.B0, s.B1, s.B2, s.A1, s.A2}
 }
 
 // Paired: does each number stand in the list as often as its conjugate? A real one is its own.

@@ -3,6 +3,7 @@ package numbers_test
 import (
 	"testing"
 
+	"quaver/api"
 	"quaver/numbers"
 	"quaver/trial"
 )
@@ -15,6 +16,13 @@ func TestFinite(t *testing.T) {
 		if numbers.Finite(bad) || numbers.Finite(1, bad) || numbers.Finite(bad, 1) {
 			t.Errorf("%v is not finite", bad)
 		}
+	}
+}
+
+func TestCoefficients(t *testing.T) {
+	s := api.Section{B0: 1, B1: 2, B2: 3, A1: 4, A2: 5}
+	if got := numbers.Coefficients(s); !trial.AlikeNumbers(got, []complex128{1, 2, 3, 4, 5}) {
+		t.Errorf("the coefficients of %v are %v", s, got)
 	}
 }
 

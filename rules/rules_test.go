@@ -17,7 +17,7 @@ import (
 )
 
 // layers are the packages of the program, each behind those that it calls; trial, which the tests share, stands behind them all.
-const layers = "api part exact entry ratio cplx narrow gauss numbers modular ring poly circle sum fft whole squares schur sturm refl zpk pair biquad run cascade lattice guard stream block resp bilin proto quant bank text shell trial"
+const layers = "api part exact entry ratio cplx narrow gauss numbers modular ring poly circle sum fft whole binary squares schur sturm refl zpk pair biquad run cascade lattice guard stream block resp bilin proto quant bank text shell trial"
 
 const library = "bytes cmp container/heap errors iter maps math math/big math/bits slices sort strconv strings sync sync/atomic unicode unicode/utf8"
 

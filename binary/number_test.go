@@ -1,0 +1,76 @@
+package binary_test
+
+import (
+	"testing"
+
+	"quaver/binary"
+	"quaver/trial"
+)
+
+// pair is a number of the program beside the same by rational numbers.
+type pair struct {
+	got  binary.Number
+	want trial.Complex
+}
+
+func (p pair) check(t *testing.T, name string) {
+	t.Helper()
+	if got, want := p.got.Gauss(), p.want.Gauss(); !trial.AlikeGauss(got, want) {
+		t.Fatalf("%s = %v, want %v", name, got, want)
+	}
+}
+
+func of(a complex128) pair {
+	return pair{binary.Of(a), trial.Exactly(a)}
+}
+
+func TestOf(t *testing.T) {
+	mix := trial.Mixer(1)
+	list := append(mix.FiniteNumbers(500), trial.Noughts()...)
+	for _, x := range []float64{trial.Least, trial.LeastNormal, 0.75, 1, 6, 0x1p60, trial.Greatest} {
+		for _, y := range []float64{0, 0.5, trial.Least, trial.Greatest} {
+			list = append(list, trial.Signs(x, y)...)
+			list = append(list, trial.Signs(y, x)...)
+		}
+	}
+	for _, a := range list {
+		of(a).check(t, "Of")
+	}
+	pair{binary.Nought(), trial.Fraction(0, 0, 1)}.check(t, "Nought")
+}
+
+func TestSumsAndProducts(t *testing.T) {
+	mix := trial.Mixer(2)
+	for round := range 300 {
+		made := []pair{of(0)}
+		for _, a := range append(mix.FiniteNumbers(2), mix.Few(2)...) {
+			made = append(made, of(a))
+		}
+		for range 4 + round%3 {
+			a, b := made[mix.Below(len(made))], made[mix.Below(len(made))]
+			was, other := a.got.Gauss(), b.got.Gauss()
+			sum := pair{a.got.Add(b.got), a.want.Add(b.want)}
+			difference := pair{a.got.Sub(b.got), a.want.Sub(b.want)}
+			product := pair{a.got.Mul(b.got), a.want.Mul(b.want)}
+			sum.check(t, "Add")
+			difference.check(t, "Sub")
+			product.check(t, "Mul")
+			if !trial.AlikeGauss(a.got.Gauss(), was) || !trial.AlikeGauss(b.got.Gauss(), other) {
+				t.Fatal("a step changed its numbers")
+			}
+			made = append(made, sum, difference, product)
+		}
+	}
+}
+
+func TestNewMemory(t *testing.T) {
+	for _, a := range []complex128{3, complex(0, 1), complex(0.25, 0.25), complex(0x1p100, -0x1p100)} {
+		number := binary.Of(a)
+		fault := trial.Touched(func([]trial.Numbers) []trial.Numbers {
+			return []trial.Numbers{{number.Gauss(), number.Gauss()}}
+		})
+		if fault != "" {
+			t.Errorf("Gauss of %v: %s", a, fault)
+		}
+	}
+}
