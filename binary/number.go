@@ -1,32 +1,16 @@
-// Package binary reckons with complex numbers whose parts are whole over a power of two. All sums and products of floats are such, and no step looks for a common divisor.
+// Package binary reckons with complex numbers whose parts are whole times a power of two. All sums and products of floats are such, and no step looks for a common divisor.
 package binary
 
-import (
-	"math/big"
+import "quaver/api"
 
-	"quaver/api"
-	"quaver/exact"
-	"quaver/numbers"
-	"quaver/whole"
-)
-
-// Number is steps over 2^places.
+// Number is a complex number. Each part has a power of its own: a part of few bits stays short beside one far above or below it.
 type Number struct {
-	steps  whole.Number
-	places uint
+	re, im dyad
 }
 
 // Of is the number that a, which is finite, is.
 func Of(a complex128) Number {
-	c := exact.ReadComplex(numbers.Exact(a))
-	places := max(behind(c.Re), behind(c.Im))
-	return Number{whole.Number{Re: c.Re.Whole(places), Im: c.Im.Whole(places)}, uint(places)}
-}
-
-// behind is how many binary places x, a float's number, has behind the point.
-func behind(x exact.Number) int {
-	_, den := x.Parts()
-	return den.BitLen() - 1
+	return Number{float(real(a)), float(imag(a))}
 }
 
 // Nought is 0.
@@ -34,30 +18,30 @@ func Nought() Number {
 	return Of(0)
 }
 
+// Conj is a's conjugate.
+func (a Number) Conj() Number {
+	return Number{a.re, a.im.neg()}
+}
+
 // Add is a + b.
 func (a Number) Add(b Number) Number {
-	places := max(a.places, b.places)
-	return Number{a.in(places).Add(b.in(places)), places}
+	return Number{a.re.add(b.re), a.im.add(b.im)}
 }
 
 // Sub is a - b.
 func (a Number) Sub(b Number) Number {
-	places := max(a.places, b.places)
-	return Number{a.in(places).Sub(b.in(places)), places}
-}
-
-// in is a times 2^places, of at least as many places as a has.
-func (a Number) in(places uint) whole.Number {
-	return a.steps.Up(places - a.places)
+	return Number{a.re.sub(b.re), a.im.sub(b.im)}
 }
 
 // Mul is a * b.
 func (a Number) Mul(b Number) Number {
-	return Number{a.steps.Mul(b.steps), a.places + b.places}
+	return Number{
+		a.re.mul(b.re).sub(a.im.mul(b.im)),
+		a.re.mul(b.im).add(a.im.mul(b.re)),
+	}
 }
 
 // Gauss is a in form, in new memory.
 func (a Number) Gauss() api.Gauss {
-	power := new(big.Int).Lsh(big.NewInt(1), a.places)
-	return exact.Complex{Re: exact.Over(a.steps.Re, power), Im: exact.Over(a.steps.Im, power)}.Gauss()
+	return api.Gauss{Re: a.re.rat(), Im: a.im.rat()}
 }

@@ -52,13 +52,31 @@ func TestSumsAndProducts(t *testing.T) {
 			sum := pair{a.got.Add(b.got), a.want.Add(b.want)}
 			difference := pair{a.got.Sub(b.got), a.want.Sub(b.want)}
 			product := pair{a.got.Mul(b.got), a.want.Mul(b.want)}
+			conjugate := pair{a.got.Conj(), a.want.Conj()}
 			sum.check(t, "Add")
 			difference.check(t, "Sub")
 			product.check(t, "Mul")
+			conjugate.check(t, "Conj")
 			if !trial.AlikeGauss(a.got.Gauss(), was) || !trial.AlikeGauss(b.got.Gauss(), other) {
 				t.Fatal("a step changed its numbers")
 			}
-			made = append(made, sum, difference, product)
+			made = append(made, sum, difference, product, conjugate)
+		}
+	}
+}
+
+func TestNoughts(t *testing.T) {
+	// What cancels, or is multiplied by nought, is nought, whatever its power was.
+	for _, a := range []complex128{trial.Least, trial.Greatest, complex(trial.Least, -trial.Greatest), complex(0, 3)} {
+		x, one := of(a), of(complex(1, -1))
+		gone := pair{x.got.Sub(x.got), trial.Fraction(0, 0, 1)}
+		product := pair{x.got.Mul(binary.Nought()), gone.want}
+		for _, nought := range []pair{gone, product, {gone.got.Mul(x.got), gone.want}, {gone.got.Conj(), gone.want}} {
+			nought.check(t, "a nought")
+			pair{nought.got.Add(one.got), one.want}.check(t, "0 + 1 - i")
+			pair{one.got.Add(nought.got), one.want}.check(t, "1 - i + 0")
+			pair{one.got.Sub(nought.got), one.want}.check(t, "1 - i - 0")
+			pair{nought.got.Sub(one.got), gone.want.Sub(one.want)}.check(t, "0 - (1 - i)")
 		}
 	}
 }

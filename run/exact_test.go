@@ -1,8 +1,6 @@
 package run_test
 
 import (
-	"math/big"
-	"math/bits"
 	"slices"
 	"testing"
 
@@ -109,70 +107,27 @@ func TestExactBesideStep(t *testing.T) {
 	}
 }
 
-// prime is what long answers are held against the line modulo.
-const prime = 1<<61 - 1
-
-// left is what a natural number leaves, divided by the prime.
-func left(limbs []uint64) *big.Int {
-	var rest uint64
-	for _, limb := range slices.Backward(limbs) {
-		rest = bits.Rem64(rest, limb, prime)
-	}
-	return new(big.Int).SetUint64(rest)
-}
-
-// stand is a number whose denominator is a power of two, modulo the prime.
-func stand(g api.Gauss) trial.Complex {
-	part := func(r api.Rat) *big.Rat {
-		x := new(big.Int).ModInverse(left(r.Den), big.NewInt(prime))
-		if x.Mul(x, left(r.Num)); r.Neg {
-			x.Neg(x)
-		}
-		return new(big.Rat).SetInt(x)
-	}
-	return trial.Complex{Re: part(g.Re), Im: part(g.Im)}
-}
-
-// divides: does the prime divide both parts?
-func divides(a trial.Complex) bool {
-	part := func(x *big.Rat) bool { return new(big.Int).Mod(x.Num(), big.NewInt(prime)).Sign() == 0 }
-	return part(a.Re) && part(a.Im)
-}
-
-// reduced: is the denominator a power of two, with no divisor in common with the numerator, and is there no nought too much?
-func reduced(r api.Rat) bool {
-	top := len(r.Den) - 1
-	if top < 0 || bits.OnesCount64(r.Den[top]) != 1 || slices.ContainsFunc(r.Den[:top], func(limb uint64) bool { return limb != 0 }) {
-		return false
-	}
-	one := top == 0 && r.Den[0] == 1
-	if len(r.Num) == 0 {
-		return one && !r.Neg
-	}
-	return r.Num[len(r.Num)-1] != 0 && (one || r.Num[0]&1 == 1)
-}
-
 // holds looks whether each answer is what the line says, and in form; it tells how many limbs the longest number has.
 func holds(t *testing.T, s api.Section, samples []complex128, answers []api.Gauss) int {
 	t.Helper()
 	longest := 0
 	var c []trial.Complex
 	for _, a := range trial.Row(s) {
-		c = append(c, stand(trial.Exactly(a).Gauss()))
+		c = append(c, trial.Stand(trial.Exactly(a).Gauss()))
 	}
 	nought := trial.Fraction(0, 0, 1)
 	x1, x2, y1, y2 := nought, nought, nought, nought
 	for i, g := range answers {
-		x, y := stand(trial.Exactly(samples[i]).Gauss()), stand(g)
+		x, y := trial.Stand(trial.Exactly(samples[i]).Gauss()), trial.Stand(g)
 		poles := y.Add(c[3].Mul(y1)).Add(c[4].Mul(y2))
 		zeros := c[0].Mul(x).Add(c[1].Mul(x1)).Add(c[2].Mul(x2))
-		if !divides(poles.Sub(zeros)) {
+		if !poles.Sub(zeros).Multiple() {
 			t.Fatalf("P16.4: Exact(%x): the answer %d is not what the line says", s, i)
 		}
-		if !reduced(g.Re) || !reduced(g.Im) {
+		if !trial.Reduced(g) {
 			t.Fatalf("P16.4: Exact(%x): the answer %d is not in form", s, i)
 		}
-		longest = max(longest, len(g.Re.Num), len(g.Re.Den), len(g.Im.Num), len(g.Im.Den))
+		longest = max(longest, trial.Longest(g))
 		x1, x2, y1, y2 = x, x1, y, y1
 	}
 	return longest

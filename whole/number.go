@@ -63,11 +63,6 @@ func (a Number) Mul(b Number) Number {
 	return Number{re, im}
 }
 
-// Up is a times 2^n.
-func (a Number) Up(n uint) Number {
-	return Number{new(big.Int).Lsh(a.Re, n), new(big.Int).Lsh(a.Im, n)}
-}
-
 // Down is a over 2^n, each part rounded down.
 func (a Number) Down(n uint) Number {
 	return Number{new(big.Int).Rsh(a.Re, n), new(big.Int).Rsh(a.Im, n)}

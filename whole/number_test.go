@@ -88,7 +88,7 @@ func TestNumbersStay(t *testing.T) {
 		name   string
 		got    whole.Number
 		re, im int64
-	}{{"Add", a.Add(b), -4, -3}, {"Sub", a.Sub(b), 10, -7}, {"Mul", a.Mul(b), -11, 41}, {"Conj", a.Conj(), 3, 5}, {"Up", a.Up(4), 48, -80}, {"Up", b.Up(0), -7, 2}} {
+	}{{"Add", a.Add(b), -4, -3}, {"Sub", a.Sub(b), 10, -7}, {"Mul", a.Mul(b), -11, 41}, {"Conj", a.Conj(), 3, 5}} {
 		if c.got.Re.Int64() != c.re || c.got.Im.Int64() != c.im {
 			t.Errorf("%s = %v", c.name, c.got)
 		}
