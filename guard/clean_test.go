@@ -60,9 +60,9 @@ func cleans(t *testing.T, g api.Guard, a complex128) {
 
 func TestClean(t *testing.T) {
 	// Every part beside every other one, under every guard.
-	parts := append(edges(), trial.Floats()...)
+	parts := append(trial.Edges(), trial.Floats()...)
 	mix := trial.Mixer(201)
-	for _, g := range guards() {
+	for _, g := range trial.Guards() {
 		for _, x := range parts {
 			for _, y := range parts {
 				cleans(t, g, complex(x, y))
@@ -77,9 +77,9 @@ func TestClean(t *testing.T) {
 }
 
 func TestCleanTwice(t *testing.T) {
-	for _, g := range guards() {
-		for _, x := range edges() {
-			for _, y := range edges() {
+	for _, g := range trial.Guards() {
+		for _, x := range trial.Edges() {
+			for _, y := range trial.Edges() {
 				once, _ := guard.Clean(g, complex(x, y))
 				if again, n := guard.Clean(g, once); n != 0 || !trial.AlikeNumber(again, once) {
 					t.Errorf("P19.1: Clean(%v, %v), which is clean, = %v, %d", g, once, again, n)

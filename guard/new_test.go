@@ -14,7 +14,7 @@ import (
 // refused: does New answer this error, and nothing beside it, whatever the guard?
 func refused(t *testing.T, f api.Filter, want api.Errno) {
 	t.Helper()
-	for _, g := range guards() {
+	for _, g := range trial.Guards() {
 		if d, e := guard.New(f, g); e != want || (d == nil) != (want != api.OK) {
 			t.Errorf("P19.2: New of %d sections, the gain %v, %v: %v, %d, want %d", len(f.Sections), f.Gain, g, d, e, want)
 		}
@@ -25,7 +25,7 @@ func TestNew(t *testing.T) {
 	for _, n := range []int{0, 1, 2, 15, 16} {
 		f := api.Filter{Gain: 1, Sections: make([]api.Section, n)}
 		refused(t, f, api.OK)
-		for _, g := range guards() {
+		for _, g := range trial.Guards() {
 			stands(t, made(t, f, g), make([]api.State, n), 0, "P19.2: New of %d sections", n)
 		}
 	}
@@ -36,7 +36,7 @@ func TestNew(t *testing.T) {
 	for _, z := range trial.Signs(greatest, least) {
 		f := api.Filter{Gain: z, Sections: []api.Section{{B0: z, B1: z, B2: z, A1: z, A2: z}}}
 		refused(t, f, api.OK)
-		like(t, made(t, f, all), newModel(f, all), list(0x1p-1000, 0x1p1000, complex(0x1p60, -0x1p60)))
+		like(t, made(t, f, all), trial.NewGuarded(f, all), list(0x1p-1000, 0x1p1000, complex(0x1p60, -0x1p60)))
 	}
 }
 
@@ -79,8 +79,8 @@ func TestPromotedMethods(t *testing.T) {
 	mix := trial.Mixer(206)
 	for n := range 4 {
 		// Nothing is promised of what they answer, but that they end.
-		d := made(t, filter(&mix, n), all)
-		d.Run(samples(&mix, 3))
+		d := made(t, mix.Filter(n), all)
+		d.Run(mix.Samples(3))
 		for _, x := range append(trial.Endless(), 1) {
 			d.Step(x)
 		}
@@ -147,32 +147,32 @@ func TestMemory(t *testing.T) {
 			}
 		}
 	}
-	if fault := trial.BesideLists(calls, list(2), mix.Numbers(15, mix.Middle), samples(&mix, 50)); fault != "" {
+	if fault := trial.BesideLists(calls, list(2), mix.Numbers(15, mix.Middle), mix.Samples(50)); fault != "" {
 		t.Errorf("P2: %s", fault)
 	}
 }
 
 func TestMemoryOfFilters(t *testing.T) {
 	mix := trial.Mixer(208)
-	f := filter(&mix, 3)
+	f := mix.Filter(3)
 	spare := api.Section{B0: 77, A2: -77}
 	roomy := append(slices.Clone(f.Sections), spare, spare)
-	d, m := made(t, api.Filter{Gain: f.Gain, Sections: roomy[:3]}, all), newModel(f, all)
+	d, m := made(t, api.Filter{Gain: f.Gain, Sections: roomy[:3]}, all), trial.NewGuarded(f, all)
 	if !slices.EqualFunc(roomy, append(slices.Clone(f.Sections), spare, spare), trial.AlikeSection) {
 		t.Error("Memory: New changed the sections that were handed in")
 	}
 	clear(roomy) // what was handed in may be written over
-	like(t, d, m, mix.Numbers(5, mix.Middle), samples(&mix, 4))
-	like(t, made(t, api.Filter{Gain: f.Gain, Sections: []api.Section{}}, all), newModel(api.Filter{Gain: f.Gain}, all), samples(&mix, 4))
+	like(t, d, m, mix.Numbers(5, mix.Middle), mix.Samples(4))
+	like(t, made(t, api.Filter{Gain: f.Gain, Sections: []api.Section{}}, all), trial.NewGuarded(api.Filter{Gain: f.Gain}, all), mix.Samples(4))
 }
 
 func TestMemoryOfStates(t *testing.T) {
 	mix := trial.Mixer(209)
-	f := filter(&mix, 3)
-	d, m := made(t, f, all), newModel(f, all)
+	f := mix.Filter(3)
+	d, m := made(t, f, all), trial.NewGuarded(f, all)
 	for range 3 {
-		like(t, d, m, samples(&mix, 3))
-		told, other, was := d.States(), d.States(), slices.Clone(m.states)
+		like(t, d, m, mix.Samples(3))
+		told, other, was := d.States(), d.States(), slices.Clone(m.States)
 		spare := told[:cap(told)]
 		for i := range spare {
 			spare[i] = api.State{S1: 77, S2: -77}
@@ -180,10 +180,10 @@ func TestMemoryOfStates(t *testing.T) {
 		if !trial.AlikeStates(other, was) {
 			t.Error("Memory: two answers of States share memory")
 		}
-		stands(t, d, m.states, m.changed, "Memory: States hands out what is kept")
+		stands(t, d, m.States, m.Changed, "Memory: States hands out what is kept")
 		answers := d.Run(list(1, 2i))
 		trial.ScrawlList(answers)
-		m.run(list(1, 2i))
+		m.Run(list(1, 2i))
 		if !trial.AlikeStates(other, was) {
 			t.Error("Memory: an answer of States goes on with the filter")
 		}
@@ -192,7 +192,7 @@ func TestMemoryOfStates(t *testing.T) {
 
 func TestFiltersBesideEachOther(t *testing.T) {
 	mix := trial.Mixer(210)
-	f, xs := filter(&mix, 4), samples(&mix, 200)
+	f, xs := mix.Filter(4), mix.Samples(200)
 	first := made(t, f, all)
 	want := first.Run(xs)
 	got, changed := make([][]complex128, 16), make([]uint64, 16)

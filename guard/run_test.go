@@ -36,16 +36,16 @@ func TestExamples(t *testing.T) {
 func TestRun(t *testing.T) {
 	mix := trial.Mixer(202)
 	for round := range 400 {
-		f := filter(&mix, round%4)
-		for _, g := range guards() {
-			like(t, made(t, f, g), newModel(f, g), samples(&mix, 3), nil, samples(&mix, 1), list(), samples(&mix, 2))
+		f := mix.Filter(round % 4)
+		for _, g := range trial.Guards() {
+			like(t, made(t, f, g), trial.NewGuarded(f, g), mix.Samples(3), nil, mix.Samples(1), list(), mix.Samples(2))
 		}
 	}
 	for _, n := range []int{5, api.MaxSections - 1, api.MaxSections} {
 		for range 6 {
-			f := filter(&mix, n)
-			for _, g := range guards() {
-				like(t, made(t, f, g), newModel(f, g), samples(&mix, 4), samples(&mix, 2))
+			f := mix.Filter(n)
+			for _, g := range trial.Guards() {
+				like(t, made(t, f, g), trial.NewGuarded(f, g), mix.Samples(4), mix.Samples(2))
 			}
 		}
 	}
@@ -53,11 +53,11 @@ func TestRun(t *testing.T) {
 
 func TestWithoutSections(t *testing.T) {
 	// What no section answers is not cleaned.
-	for _, g := range guards() {
+	for _, g := range trial.Guards() {
 		for _, gain := range []complex128{1, complex(minus, 0.5), complex(greatest, -greatest)} {
 			d := made(t, api.Filter{Gain: gain}, g)
-			for _, x := range edges() {
-				for _, y := range edges() {
+			for _, x := range trial.Edges() {
+				for _, y := range trial.Edges() {
 					a := complex(x, y)
 					are(t, d.Run(list(a)), list(trial.Product(gain, a)), "P19.3: Run(%v) of the gain %v, %v", a, gain, g)
 				}
@@ -84,10 +84,10 @@ func TestGainIsNotCleaned(t *testing.T) {
 		// A NaN, where a nought would be no change.
 		{one(1, api.Section{B0: 1}), complex(nan, 0), 0, 6},
 	} {
-		d, m := made(t, c.f, all), newModel(c.f, all)
-		m.step(c.x)
+		d, m := made(t, c.f, all), trial.NewGuarded(c.f, all)
+		m.Step(c.x)
 		are(t, d.Run(list(c.x)), list(c.want), "P19.3: Run(%v) of %v", c.x, c.f)
-		stands(t, d, m.states, c.changed, "P19.3: Run(%v) of %v", c.x, c.f)
+		stands(t, d, m.States, c.changed, "P19.3: Run(%v) of %v", c.x, c.f)
 	}
 }
 
@@ -167,8 +167,8 @@ func TestChanged(t *testing.T) {
 func TestCutAnyhow(t *testing.T) {
 	mix := trial.Mixer(203)
 	for round := range 12 {
-		f, xs := filter(&mix, round%4), append(samples(&mix, 6), samples(&mix, 4)...)
-		for _, g := range guards() {
+		f, xs := mix.Filter(round%4), append(mix.Samples(6), mix.Samples(4)...)
+		for _, g := range trial.Guards() {
 			whole := made(t, f, g)
 			want := whole.Run(xs)
 			for i := range len(xs) + 1 {
@@ -205,8 +205,8 @@ func besideCascade(t *testing.T, f api.Filter, g api.Guard, pieces ...[]complex1
 func TestAsTheCascade(t *testing.T) {
 	mix := trial.Mixer(204)
 	for round := range 300 {
-		f := filter(&mix, round%(api.MaxSections+1))
-		besideCascade(t, f, none, samples(&mix, 4), samples(&mix, 3))
+		f := mix.Filter(round % (api.MaxSections + 1))
+		besideCascade(t, f, none, mix.Samples(4), mix.Samples(3))
 	}
 	// Nothing to change on the way: halves and whole numbers, noughts of both signs among them.
 	for round := range 100 {
@@ -214,7 +214,7 @@ func TestAsTheCascade(t *testing.T) {
 		for range round % 5 {
 			f.Sections = append(f.Sections, trial.Section(mix.Few(5)))
 		}
-		for _, g := range guards() {
+		for _, g := range trial.Guards() {
 			besideCascade(t, f, g, mix.Few(4), mix.Few(3))
 		}
 	}
@@ -239,9 +239,9 @@ func TestNothingIsLeft(t *testing.T) {
 	mix := trial.Mixer(205)
 	var changed uint64
 	for round := range 400 {
-		d := made(t, filter(&mix, 1+round%4), all)
+		d := made(t, mix.Filter(1+round%4), all)
 		for range 4 {
-			xs := samples(&mix, 3)
+			xs := mix.Samples(3)
 			if got := d.Run(xs); !clean(got...) {
 				t.Fatalf("P19.5: Run(%x) = %x, with all flags", xs, got)
 			}
