@@ -27,6 +27,12 @@ func float(x float64) dyad {
 	return dyad{steps, e + last}
 }
 
+// whole is the number x.
+func whole(x *big.Int) dyad {
+	last := x.TrailingZeroBits()
+	return dyad{new(big.Int).Rsh(x, last), int(last)}
+}
+
 // nought: is x 0? Its power tells nothing then.
 func (x dyad) nought() bool {
 	return x.steps.Sign() == 0
@@ -70,8 +76,16 @@ func (x dyad) in(power int) *big.Int {
 	return new(big.Int).Lsh(x.steps, uint(x.power-power))
 }
 
+// over is x / y, where y is not nought.
+func (x dyad) over(y dyad) exact.Number {
+	if y.steps.Sign() < 0 {
+		x, y = x.neg(), y.neg()
+	}
+	power := min(x.power, y.power)
+	return exact.Over(x.in(power), y.in(power))
+}
+
 // rat is x in form, in new memory.
 func (x dyad) rat() api.Rat {
-	den := new(big.Int).Lsh(big.NewInt(1), uint(max(-x.power, 0)))
-	return exact.Over(x.in(min(x.power, 0)), den).Rat()
+	return x.over(whole(big.NewInt(1))).Rat()
 }

@@ -1,8 +1,10 @@
 package binary_test
 
 import (
+	"math/big"
 	"testing"
 
+	"quaver/api"
 	"quaver/binary"
 	"quaver/trial"
 )
@@ -62,6 +64,78 @@ func TestSumsAndProducts(t *testing.T) {
 			}
 			made = append(made, sum, difference, product, conjugate)
 		}
+	}
+}
+
+// wholes are whole numbers of both signs, some with many noughts at the end.
+func wholes() []*big.Int {
+	list := []*big.Int{big.NewInt(0), big.NewInt(1), big.NewInt(-1), big.NewInt(12), big.NewInt(-35)}
+	for _, x := range []int64{1, -1, 3, -77} {
+		list = append(list, new(big.Int).Lsh(big.NewInt(x), 200), new(big.Int).Sub(new(big.Int).Lsh(big.NewInt(x), 90), big.NewInt(5)))
+	}
+	return list
+}
+
+func TestWhole(t *testing.T) {
+	for _, re := range wholes() {
+		for _, im := range wholes() {
+			number := pair{binary.Whole(re, im), trial.Complex{Re: new(big.Rat).SetInt(re), Im: new(big.Rat).SetInt(im)}}
+			number.check(t, "Whole")
+			odd := of(complex(0.75, -0x1p-70))
+			pair{number.got.Mul(odd.got), number.want.Mul(odd.want)}.check(t, "Mul of a whole number")
+			pair{number.got.Add(odd.got), number.want.Add(odd.want)}.check(t, "Add of a whole number")
+		}
+	}
+}
+
+func TestIsNought(t *testing.T) {
+	least := of(trial.Least)
+	for _, a := range []binary.Number{binary.Nought(), binary.Of(complex(trial.Turned(0), 0)), binary.Whole(new(big.Int), new(big.Int)), least.got.Sub(least.got), least.got.Mul(binary.Nought())} {
+		if !a.IsNought() {
+			t.Errorf("%v is nought", a.Gauss())
+		}
+	}
+	for _, a := range []complex128{1, -1, complex(0, trial.Least), trial.Least, complex(-trial.Greatest, 0), complex(0, -3)} {
+		if binary.Of(a).IsNought() {
+			t.Errorf("%v is not nought", a)
+		}
+	}
+}
+
+func TestQuo(t *testing.T) {
+	mix := trial.Mixer(3)
+	check := func(a, b pair) {
+		t.Helper()
+		was, other := a.got.Gauss(), b.got.Gauss()
+		got, want := a.got.Quo(b.got).Gauss(), a.want.Quo(b.want).Gauss()
+		if !trial.AlikeGauss(got, want) {
+			t.Fatalf("%v over %v = %v, want %v", was, other, got, want)
+		}
+		if !trial.AlikeGauss(a.got.Gauss(), was) || !trial.AlikeGauss(b.got.Gauss(), other) {
+			t.Fatal("Quo changed its numbers")
+		}
+	}
+	for range 100 {
+		list := append(mix.FiniteNumbers(2), mix.Few(2)...)
+		for _, a := range list[:4:4] {
+			list = append(list, complex(real(a), 0), complex(0, imag(a)), complex(0, -real(a)))
+		}
+		for _, a := range list {
+			for _, b := range list {
+				if b != 0 {
+					check(of(a), of(b))
+					check(pair{of(a).got.Mul(of(b).got), of(a).want.Mul(of(b).want)}, of(b))
+				}
+			}
+		}
+	}
+	one := binary.Of(1)
+	if got := one.Sub(one).Quo(binary.Of(trial.Greatest)).Gauss(); !trial.AlikeGauss(got, trial.Whole(0, 0)) {
+		t.Errorf("0 over the greatest number is %v", got)
+	}
+	third, i := api.Rat{Num: []uint64{1}, Den: []uint64{3}}, binary.Whole(new(big.Int), big.NewInt(-3))
+	if got := one.Quo(i).Gauss(); !trial.AlikeGauss(got, api.Gauss{Re: trial.Frac(0, 1), Im: third}) {
+		t.Errorf("1 over -3i is %v", got)
 	}
 }
 

@@ -68,5 +68,5 @@ func (a Complex) Conj() Complex {
 
 // Norm is the square of a's magnitude.
 func (a Complex) Norm() Number {
-	return Add(Mul(a.Re, a.Re), Mul(a.Im, a.Im))
+	return Squares(a.Re, a.Im)
 }

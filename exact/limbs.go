@@ -35,15 +35,6 @@ func Coprime(x, y []uint64) bool {
 	return isOne(Divisor(whole(x), whole(y)))
 }
 
-// Divisor is the greatest common divisor of two numbers that are not both nought.
-func Divisor(x, y *big.Int) *big.Int {
-	// What comes of floats is over powers of two: these are told by shifts, where Euclid's steps take far longer.
-	if x.Sign() != 0 && y.Sign() != 0 && (isPower(x) || isPower(y)) {
-		return power(min(x.TrailingZeroBits(), y.TrailingZeroBits()))
-	}
-	return new(big.Int).GCD(nil, nil, x, y)
-}
-
 // isPower: is x's magnitude a power of two?
 func isPower(x *big.Int) bool {
 	return x.BitLen() == int(x.TrailingZeroBits())+1

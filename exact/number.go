@@ -81,8 +81,23 @@ func reduce(num, den *big.Int) Number {
 
 // Add is x + y.
 func Add(x, y Number) Number {
-	// Only what divides both denominators can divide the sum's parts: the divisors that are looked for stay small.
+	return add(x, y, Divisor(x.den, y.den))
+}
+
+// Squares is x * x + y * y.
+func Squares(x, y Number) Number {
+	// A square has no common divisors that its root has not, and two squares those of their roots, squared.
 	d := Divisor(x.den, y.den)
+	return add(square(x), square(y), new(big.Int).Mul(d, d))
+}
+
+func square(x Number) Number {
+	return Number{new(big.Int).Mul(x.num, x.num), new(big.Int).Mul(x.den, x.den)}
+}
+
+// add is x + y, where d is the greatest common divisor of their denominators.
+func add(x, y Number, d *big.Int) Number {
+	// Only what divides both denominators can divide the sum's parts: the divisors that are looked for stay small.
 	rest := over(x.den, d)
 	num := new(big.Int).Mul(x.num, over(y.den, d))
 	num.Add(num, new(big.Int).Mul(y.num, rest))
