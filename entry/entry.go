@@ -52,6 +52,17 @@ func Rats(list ...api.Rat) api.Errno {
 	return api.OK
 }
 
+// Above is the least error of a number that must be above nought.
+func Above(r api.Rat) api.Errno {
+	if e := Rats(r); e != api.OK {
+		return e
+	}
+	if r.Neg || len(r.Num) == 0 {
+		return api.ErrArg
+	}
+	return api.OK
+}
+
 // Gausses is the least error of these numbers.
 func Gausses(list ...api.Gauss) api.Errno {
 	parts := make([]api.Rat, 0, 2*len(list))

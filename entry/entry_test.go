@@ -5,6 +5,7 @@ import (
 
 	"quaver/api"
 	"quaver/entry"
+	"quaver/trial"
 )
 
 func TestLeast(t *testing.T) {
@@ -39,6 +40,30 @@ func TestDegreesUpToMost(t *testing.T) {
 	for most, want := range []api.Errno{api.ErrLong, api.ErrLong, api.ErrLong, api.ErrLong, api.OK} {
 		if e, f := entry.Rooted(most, p), entry.Rooted(most, nil); e != want || f != api.ErrZero {
 			t.Errorf("a polynomial of degree 4, where %d may be, and nought: %d, %d, want %d, ErrZero", most, e, f, want)
+		}
+	}
+}
+
+func TestAbove(t *testing.T) {
+	for _, c := range []struct {
+		r    api.Rat
+		want api.Errno
+	}{
+		{trial.Frac(1, 1), api.OK}, {trial.Frac(1, 1<<63), api.OK}, {trial.Frac(1<<62, 3), api.OK}, {trial.Frac(0, 1), api.ErrArg}, {trial.Frac(-1, 1), api.ErrArg}, {trial.Frac(-1, 1<<63), api.ErrArg},
+	} {
+		if e := entry.Above(c.r); e != c.want {
+			t.Errorf("Above(%v) = %d, want %d", c.r, e, c.want)
+		}
+	}
+	// Signs are asked of numbers in form alone.
+	for _, r := range trial.Wrong() {
+		if e := entry.Above(r); e != api.ErrForm {
+			t.Errorf("Above(%v) = %d, want ErrForm", r, e)
+		}
+	}
+	for _, r := range trial.Long() {
+		if e := entry.Above(r); e != api.ErrLong {
+			t.Errorf("Above of %d limbs over %d: %d, want ErrLong", len(r.Num), len(r.Den), e)
 		}
 	}
 }

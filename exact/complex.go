@@ -27,6 +27,15 @@ func (a Complex) Gauss() api.Gauss {
 	return api.Gauss{Re: a.Re.Rat(), Im: a.Im.Rat()}
 }
 
+// Parts are the parts of all of these numbers, each one's real part ahead of its imaginary one.
+func Parts(list ...Complex) []Number {
+	all := make([]Number, 0, 2*len(list))
+	for _, a := range list {
+		all = append(all, a.Re, a.Im)
+	}
+	return all
+}
+
 // Nought: is a 0?
 func (a Complex) Nought() bool {
 	return a.Re.Sign() == 0 && a.Im.Sign() == 0

@@ -14,13 +14,7 @@ type rung []whole.Number
 
 // read is the whole numbers that p's coefficients are, multiplied with the least number that makes them so.
 func read(p ring.Poly) []whole.Number {
-	p, _ = ring.Whole(p)
-	list := make([]whole.Number, len(p))
-	for i, c := range p {
-		re, _ := c.Re.Parts()
-		im, _ := c.Im.Parts()
-		list[i] = whole.Number{Re: re, Im: im}
-	}
+	list, _ := whole.Common(p...)
 	return list
 }
 

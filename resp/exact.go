@@ -8,6 +8,7 @@ import (
 	"quaver/entry"
 	"quaver/exact"
 	"quaver/numbers"
+	"quaver/whole"
 )
 
 // Exact: the true one.
@@ -45,13 +46,8 @@ type powers [3]binary.Number
 
 // powersOf tells those of z, which is in form and not nought.
 func powersOf(z api.Gauss) powers {
-	c := exact.ReadComplex(z)
-	re, q := c.Re.Parts()
-	im, s := c.Im.Parts()
-	rest := new(big.Int).Quo(s, exact.Divisor(q, s))
-	most := new(big.Int).Mul(q, rest) // the least common multiple
-	top := binary.Whole(new(big.Int).Mul(re, rest), new(big.Int).Mul(im, new(big.Int).Quo(most, s)))
-	below := binary.Whole(most, new(big.Int))
+	above, den := whole.Common(exact.ReadComplex(z))
+	top, below := binary.Whole(above[0].Re, above[0].Im), binary.Whole(den, new(big.Int))
 	return powers{top.Mul(top), top.Mul(below), below.Mul(below)}
 }
 

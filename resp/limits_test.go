@@ -85,25 +85,14 @@ func holds(t *testing.T, name string, f api.Filter, z api.Gauss) api.Gauss {
 	return got
 }
 
-// odd is so many limbs of an odd number.
-func odd(mix *trial.Mixer, n int) []uint64 {
-	limbs := make([]uint64, n)
-	for i := range limbs {
-		limbs[i] = mix.Bits()
-	}
-	limbs[0] |= 1
-	limbs[n-1] |= 1
-	return limbs
-}
-
 func TestExactAtTheLimit(t *testing.T) {
 	mix := trial.Mixer(229)
 	two := of(3, api.Section{B0: 0.5, B1: 2, A1: -0.5, A2: 0.125}, api.Section{B0: 1, B2: 0.75, A1: 0.25})
 	turned := of(complex(0.5, 2), api.Section{B0: complex(0.5, 1), B1: 2i, A1: complex(-0.5, 3), A2: 0.125i})
 	nought := trial.Frac(0, 1)
-	whole := api.Rat{Num: odd(&mix, api.MaxLimbs), Den: []uint64{1}}
-	small := api.Rat{Neg: true, Num: []uint64{1}, Den: odd(&mix, api.MaxLimbs)}
-	binary := api.Rat{Num: odd(&mix, api.MaxLimbs), Den: append(make([]uint64, api.MaxLimbs-1), 1<<63)}
+	whole := api.Rat{Num: mix.Odd(api.MaxLimbs), Den: []uint64{1}}
+	small := api.Rat{Neg: true, Num: []uint64{1}, Den: mix.Odd(api.MaxLimbs)}
+	binary := api.Rat{Num: mix.Odd(api.MaxLimbs), Den: append(make([]uint64, api.MaxLimbs-1), 1<<63)}
 	for _, c := range []struct {
 		name string
 		f    api.Filter
@@ -125,14 +114,14 @@ func TestExactAtTheLimit(t *testing.T) {
 	for range api.MaxSections {
 		full.Sections = append(full.Sections, mix.Section(mix.Middle))
 	}
-	holds(t, "16 sections", full, api.Gauss{Re: trial.Frac(-2, 3), Im: api.Rat{Num: []uint64{1}, Den: odd(&mix, 5)}})
+	holds(t, "16 sections", full, api.Gauss{Re: trial.Frac(-2, 3), Im: api.Rat{Num: []uint64{1}, Den: mix.Odd(5)}})
 }
 
 func TestExactCancels(t *testing.T) {
 	// (1 + 1/z) (1 - 1/z) / ((1 + 1/z) (1 - 1/z)) is 1 at any point, however long.
 	mix := trial.Mixer(230)
 	f := of(7, api.Section{B0: 1, B1: 1, A1: -1}, api.Section{B0: 1, B1: -1, A1: 1})
-	z := api.Gauss{Re: api.Rat{Num: odd(&mix, 700), Den: []uint64{1}}, Im: api.Rat{Num: odd(&mix, 600), Den: []uint64{1}}}
+	z := api.Gauss{Re: api.Rat{Num: mix.Odd(700), Den: []uint64{1}}, Im: api.Rat{Num: mix.Odd(600), Den: []uint64{1}}}
 	if got := exactly(t, f, z); !trial.AlikeGauss(got, trial.Whole(7, 0)) {
 		t.Errorf("P22.2: Exact of 7 over 1: %d limbs", trial.Longest(got))
 	}
@@ -140,8 +129,8 @@ func TestExactCancels(t *testing.T) {
 
 func TestFarAtTheLimit(t *testing.T) {
 	mix := trial.Mixer(231)
-	whole := api.Rat{Num: odd(&mix, api.MaxLimbs), Den: []uint64{1}}
-	small := api.Rat{Num: []uint64{1}, Den: odd(&mix, api.MaxLimbs)}
+	whole := api.Rat{Num: mix.Odd(api.MaxLimbs), Den: []uint64{1}}
+	small := api.Rat{Num: []uint64{1}, Den: mix.Odd(api.MaxLimbs)}
 	n := trial.Natural(whole.Num)
 	n.Mul(n, n)
 	d := trial.Natural(small.Den)

@@ -15,7 +15,7 @@ func Read(p api.Poly) Poly {
 	for i, c := range p {
 		list[i] = exact.ReadComplex(c)
 	}
-	return trim(list)
+	return Trim(list)
 }
 
 // Form is p in form, in new memory.
@@ -27,8 +27,8 @@ func (p Poly) Form() api.Poly {
 	return list
 }
 
-// trim leaves noughts at the end out.
-func trim(p Poly) Poly {
+// Trim leaves noughts at the end out.
+func Trim(p Poly) Poly {
 	for len(p) > 0 && p[len(p)-1].Nought() {
 		p = p[:len(p)-1]
 	}
@@ -69,7 +69,7 @@ func each(step func(a, b exact.Complex) exact.Complex, p, q Poly) Poly {
 	for i := range list {
 		list[i] = step(p.at(i), q.at(i))
 	}
-	return trim(list)
+	return Trim(list)
 }
 
 // Scale is each coefficient times g.
@@ -78,7 +78,7 @@ func Scale(p Poly, g exact.Complex) Poly {
 	for i, c := range p {
 		list[i] = c.Mul(g)
 	}
-	return trim(list)
+	return Trim(list)
 }
 
 // Monic is p, which is not nought, over its last coefficient.
@@ -110,5 +110,5 @@ func Star(p Poly, n int) Poly {
 	for i := range list {
 		list[i] = p.at(n - i).Conj()
 	}
-	return trim(list)
+	return Trim(list)
 }

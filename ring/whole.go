@@ -46,29 +46,12 @@ func (a whole) times(n *big.Int) whole {
 
 // scale is p over the least common denominator, in memory of its own.
 func scale(p ...exact.Complex) scaled {
-	den := big.NewInt(1)
-	for _, c := range p {
-		den = multiple(multiple(den, c.Re), c.Im)
-	}
+	den := exact.Denominator(exact.Parts(p...)...)
 	list := make([]whole, len(p))
 	for i, c := range p {
-		list[i] = whole{raise(c.Re, den), raise(c.Im, den)}
+		list[i] = whole{c.Re.Raise(den), c.Im.Raise(den)}
 	}
 	return scaled{list, den}
-}
-
-// multiple is the least common multiple of den and x's denominator.
-func multiple(den *big.Int, x exact.Number) *big.Int {
-	_, other := x.Parts()
-	shared, _ := exact.Over(other, den).Parts() // other over what both have in common
-	return new(big.Int).Mul(den, shared)
-}
-
-// raise is x times den, a multiple of x's denominator.
-func raise(x exact.Number, den *big.Int) *big.Int {
-	num, own := x.Parts()
-	factor := new(big.Int).Quo(den, own)
-	return factor.Mul(factor, num)
 }
 
 // poly is s as a polynomial.
@@ -77,7 +60,7 @@ func (s scaled) poly() Poly {
 	for i, c := range s.list {
 		list[i] = c.over(s.den)
 	}
-	return trim(list)
+	return Trim(list)
 }
 
 // Whole is p times the least number that makes its coefficients whole, and that number.

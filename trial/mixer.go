@@ -42,6 +42,17 @@ func (m *Mixer) Limbs(most int) []uint64 {
 	return list
 }
 
+// Odd is just so many limbs of an odd number.
+func (m *Mixer) Odd(n int) []uint64 {
+	list := make([]uint64, n)
+	for i := range list {
+		list[i] = m.Bits()
+	}
+	list[0] |= 1
+	list[n-1] |= 1
+	return list
+}
+
 // Rat is a number in form, of up to most limbs over as many: a nought, a small number or a long one.
 func (m *Mixer) Rat(most int) api.Rat {
 	num, den := m.Limbs(most), append(m.Limbs(most-1), 1+m.Bits()>>1>>m.Below(63))

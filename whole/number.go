@@ -108,3 +108,13 @@ func (a Number) QuoRem(n *big.Int) (quotient, rest Number) {
 	quotient.Im.QuoRem(a.Im, n, rest.Im)
 	return quotient, rest
 }
+
+// Common is these numbers over one denominator, the least one: what stands above it, and it.
+func Common(list ...exact.Complex) ([]Number, *big.Int) {
+	den := exact.Denominator(exact.Parts(list...)...)
+	above := make([]Number, len(list))
+	for i, c := range list {
+		above[i] = Number{c.Re.Raise(den), c.Im.Raise(den)}
+	}
+	return above, den
+}

@@ -135,3 +135,27 @@ func TestTimesAndQuoRem(t *testing.T) {
 		t.Errorf("the numbers became %v, %v", a, n)
 	}
 }
+
+func TestCommon(t *testing.T) {
+	mix := trial.Mixer(4)
+	for range 500 {
+		list := make([]trial.Complex, mix.Below(4))
+		want := big.NewInt(1)
+		for i := range list {
+			list[i] = trial.ValueGauss(mix.Gauss(1 + mix.Below(2)))
+			for _, part := range []*big.Rat{list[i].Re, list[i].Im} {
+				shared := new(big.Int).GCD(nil, nil, want, part.Denom())
+				want.Mul(want, new(big.Int).Quo(part.Denom(), shared))
+			}
+		}
+		above, den := whole.Common(read(list)...)
+		if den.Cmp(want) != 0 || len(above) != len(list) {
+			t.Fatalf("%v: %d numbers over %v, want %v", list, len(above), den, want)
+		}
+		for i, z := range list {
+			if new(big.Rat).SetFrac(above[i].Re, den).Cmp(z.Re) != 0 || new(big.Rat).SetFrac(above[i].Im, den).Cmp(z.Im) != 0 {
+				t.Fatalf("%v over %v is not %v", above[i], den, z)
+			}
+		}
+	}
+}
