@@ -176,33 +176,59 @@ func TestLeastError(t *testing.T) {
 }
 
 func TestEachFilterIsAGoroutine(t *testing.T) {
+	// Goroutines are counted as they are made, and a filter more is one more: with fewer samples than filters, and with none, it is no sample's goroutine.
+	for _, n := range []int{1, 2, 3, 50, 1000} {
+		fs := slices.Repeat([]api.Filter{half()}, n)
+		for _, samples := range [][]complex128{nil, {1}, make([]complex128, 7)} {
+			more := created(func() { bank.Pipe(fs, samples) }) - created(func() { bank.Pipe(nil, samples) })
+			if more < n {
+				t.Errorf("P26.3: Pipe: %d goroutines for %d filters, %d samples", more, n, len(samples))
+			}
+			var turns []bank.Turn
+			for i, x := range samples {
+				turns = append(turns, bank.Turn{Filter: i % n, X: x})
+			}
+			more = created(func() { bank.Play(fs, turns) }) - created(func() { bank.Play(nil, nil) })
+			if more < n {
+				t.Errorf("P26.4: Play: %d goroutines for %d filters, %d turns", more, n, len(turns))
+			}
+		}
+	}
+}
+
+func TestTheFiltersWorkAtTheSameTime(t *testing.T) {
 	fs, samples := slices.Repeat([]api.Filter{half()}, 50), make([]complex128, 20000)
 	var turns []bank.Turn
 	for i := range samples {
 		turns = append(turns, bank.Turn{Filter: i % len(fs)})
 	}
-	for name, call := range map[string]func(){"Pipe": func() { bank.Pipe(fs, samples) }, "Play": func() { bank.Play(fs, turns) }} {
-		seen, ended := most(call)
-		if seen < len(fs) {
-			t.Errorf("P26.3, P26.4: %s: %d goroutines for %d filters", name, seen, len(fs))
-		}
-		if !ended {
-			t.Errorf("P26.5: goroutines are left behind %s", name)
-		}
+	if seen := most(func() { bank.Pipe(fs, samples) }); seen < len(fs) {
+		t.Errorf("P26.3: Pipe: %d goroutines at a time for %d filters", seen, len(fs))
+	}
+	if seen := most(func() { bank.Play(fs, turns) }); seen < len(fs) {
+		t.Errorf("P26.4: Play: %d goroutines at a time for %d filters", seen, len(fs))
+	}
+}
+
+func TestNoGoroutineIsLeft(t *testing.T) {
+	fs, samples := slices.Repeat([]api.Filter{half()}, 50), make([]complex128, 500)
+	var turns []bank.Turn
+	for i := range samples {
+		turns = append(turns, bank.Turn{Filter: i % len(fs)})
 	}
 	// With many filters some would still be seen, if they were not waited for.
 	many := slices.Repeat([]api.Filter{half()}, 1000)
 	for range 20 {
-		if _, ended := most(func() { bank.Play(many, turns[:5]) }); !ended {
+		if leaves(func() { bank.Play(many, turns[:5]) }) || leaves(func() { bank.Play(fs, turns) }) {
 			t.Fatal("P26.5: goroutines are left behind Play")
 		}
-		if _, ended := most(func() { bank.Pipe(many, nil) }); !ended {
+		if leaves(func() { bank.Pipe(many, nil) }) || leaves(func() { bank.Pipe(fs, samples) }) {
 			t.Fatal("P26.5: goroutines are left behind Pipe")
 		}
 	}
 	// Nor are any left, where there is nothing to do, or where a call is refused.
 	bad := append(slices.Clone(fs), wrong()[api.ErrLong][0])
-	_, ended := most(func() {
+	left := leaves(func() {
 		for range 20 {
 			bank.Pipe(fs, nil)
 			bank.Play(fs, nil)
@@ -212,7 +238,7 @@ func TestEachFilterIsAGoroutine(t *testing.T) {
 			bank.Mix(bad, samples, 9)
 		}
 	})
-	if !ended {
+	if left {
 		t.Error("P26.5: goroutines are left")
 	}
 }

@@ -4,6 +4,7 @@ import (
 	"bytes"
 	"math"
 	"runtime"
+	"runtime/metrics"
 	"slices"
 	"sync/atomic"
 	"testing"
@@ -94,25 +95,55 @@ func alike(a, b bank.Result) bool {
 	return a.E == b.E && a.Changed == b.Changed && trial.AlikeNumbers(a.Answers, b.Answers) && trial.AlikeStates(a.States, b.States)
 }
 
-// most is how many goroutines of the bank were seen while a call ran; whether all of them had ended behind it.
-func most(call func()) (int, bool) {
-	before := runtime.NumGoroutine()
-	var over atomic.Bool
-	seen := make(chan int)
+// created is how many goroutines a call makes. The runtime may make some of its own beside it, but not each time: the least count is the call's.
+func created(call func()) int {
+	least := math.MaxInt
+	for range 5 {
+		before := everMade()
+		call()
+		least = min(least, everMade()-before)
+	}
+	return least
+}
+
+// everMade is how many goroutines were made since the program began, ended or not.
+func everMade() int {
+	count := []metrics.Sample{{Name: "/sched/goroutines-created:goroutines"}}
+	metrics.Read(count)
+	return int(count[0].Value.Uint64())
+}
+
+// most is how many goroutines of the bank are at work at a time in a call, which is made again until somebody has looked on often enough: a machine that is busy with other things only makes it take longer.
+func most(call func()) int {
+	var calls, inside, looks, seen atomic.Int64
+	watched := make(chan struct{})
 	go func() {
-		n := busy()
-		seen <- n // it looks on from now on
-		for !over.Load() {
-			n = max(n, busy())
+		for looks.Load() < 40 {
+			now := inside.Load()
+			n := busy()
+			// A look counts only where it fell into one call from its beginning to its end.
+			if now != 0 && now == inside.Load() {
+				seen.Store(max(seen.Load(), int64(n)))
+				looks.Add(1)
+			}
+			runtime.Gosched()
 		}
-		seen <- n
+		close(watched)
 	}()
-	<-seen
+	for looks.Load() < 40 {
+		inside.Store(calls.Add(1))
+		call()
+		inside.Store(0)
+	}
+	<-watched
+	return int(seen.Load())
+}
+
+// leaves: is a goroutine still there when a call has answered?
+func leaves(call func()) bool {
+	before := runtime.NumGoroutine()
 	call()
-	left := busy()
-	over.Store(true)
-	n := <-seen
-	return n, left == 0 && ended(before)
+	return busy() > 0 || !ended(before)
 }
 
 // busy is how many goroutines work in the bank, but for the one that called it.
@@ -128,9 +159,9 @@ func busy() int {
 	return n
 }
 
-// ended: are there soon no more goroutines than before?
+// ended: are there no more goroutines than before? One that has told its end may need a while to go, more so on a busy machine: only those that stay are waited for to the last.
 func ended(before int) bool {
-	for range 2000 {
+	for range 60000 {
 		if runtime.NumGoroutine() <= before {
 			return true
 		}

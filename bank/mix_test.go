@@ -86,13 +86,13 @@ func TestMixOfManySamples(t *testing.T) {
 
 func TestMixIsAsManyGoroutinesAsWorkers(t *testing.T) {
 	mix := trial.Mixer(524)
-	fs, samples := tame(&mix, 100), mix.Numbers(20000, mix.Middle)
+	fs, samples := tame(&mix, 100), mix.Numbers(200, mix.Middle)
 	for _, workers := range []int{1, 6, 64} {
-		seen, ended := most(func() { bank.Mix(fs, samples, workers) })
-		if seen > workers {
-			t.Errorf("P26.2: %d goroutines for %d workers", seen, workers)
+		work := func() { bank.Mix(fs, samples, workers) }
+		if made := created(work); made > workers {
+			t.Errorf("P26.2: %d goroutines for %d workers", made, workers)
 		}
-		if !ended {
+		if leaves(work) {
 			t.Error("P26.5: goroutines are left behind Mix")
 		}
 	}

@@ -133,16 +133,13 @@ func TestRunMemory(t *testing.T) {
 }
 
 func TestRunIsAsManyGoroutinesAsWorkers(t *testing.T) {
-	var jobs []bank.Job
-	for range 200 {
-		jobs = append(jobs, bank.Job{Filter: half(), Samples: make([]complex128, 2000)})
-	}
+	jobs := slices.Repeat([]bank.Job{{Filter: half(), Samples: make([]complex128, 200)}}, 200)
 	for _, workers := range []int{1, 5, 64} {
-		seen, ended := most(func() { bank.Run(jobs, workers) })
-		if seen > workers {
-			t.Errorf("P26.1: %d goroutines for %d workers", seen, workers)
+		work := func() { bank.Run(jobs, workers) }
+		if made := created(work); made > workers {
+			t.Errorf("P26.1: %d goroutines for %d workers", made, workers)
 		}
-		if !ended {
+		if leaves(work) {
 			t.Error("P26.5: goroutines are left behind Run")
 		}
 	}
